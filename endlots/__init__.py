@@ -1,0 +1,1 @@
+"""Endlots: what choosers and chance can bring."""
