@@ -1,0 +1,92 @@
+"""Tests of the interface: what is defined where, the names of arguments, and lists that may be tuples."""
+
+import importlib
+import inspect
+import unittest
+
+from endlots.errors import InvalidSpace
+from endlots.ratios import Ratio
+from endlots.spaces import Space
+
+FUNCTIONS = {
+    "endlots.ratios": {
+        "read_number": "line", "as_ratio": "value", "total": "numbers", "greatest": "numbers", "smallest": "numbers",
+        "is_number": "value",
+    },
+    "endlots.spaces": {"read_space": "line"},
+    "endlots.lots": {
+        "is_lot": "space value", "as_lot": "space weights", "sure": "space outcome", "share": "lot outcome",
+        "mean": "lot payoff", "support": "lot", "blend": "lots weights",
+    },
+    "endlots.hulls": {
+        "corners": "lots", "shares_in": "lots lot", "is_shares_in": "lots lot value", "is_outside": "lots lot value",
+        "distance": "lots lot", "is_distance": "lots lot value",
+    },
+    "endlots.texts": {
+        "is_text": "space value", "is_surrounding": "space value", "is_straight": "surrounding", "parts": "text",
+        "part_at": "text path", "size": "text", "depth": "text", "put_at": "space text path part",
+        "fill": "space surrounding text",
+    },
+    "endlots.lines": {"line_of": "text", "read_text": "space line", "read_surrounding": "space line"},
+}
+
+CLASSES = {
+    ("endlots.ratios", "Ratio"): {
+        "__init__": "top bottom", "over": "number", "below": "number", "__add__": "other", "__radd__": "other",
+        "__sub__": "other", "__rsub__": "other", "__mul__": "other", "__rmul__": "other", "__eq__": "other",
+        "__neg__": "", "__str__": "",
+    },
+    ("endlots.spaces", "Space"): {
+        "__init__": "sizes", "at": "store", "store": "values", "line": "", "__len__": "", "__eq__": "other",
+    },
+}
+
+
+class TestInterface(unittest.TestCase):
+    def test_functions(self):
+        for module, functions in FUNCTIONS.items():
+            for name, arguments in functions.items():
+                function = getattr(importlib.import_module(module), name)
+                self.assertTrue(inspect.isfunction(function))
+                self.assertEqual(function.__module__, module, name)
+                parameters = inspect.signature(function).parameters
+                self.assertEqual(list(parameters), arguments.split(), name)
+                for parameter in parameters.values():
+                    self.assertIs(parameter.kind, inspect.Parameter.POSITIONAL_OR_KEYWORD)
+                    self.assertIs(parameter.default, inspect.Parameter.empty)
+
+    def test_classes(self):
+        for (module, name), methods in CLASSES.items():
+            told = getattr(importlib.import_module(module), name)
+            self.assertEqual(told.__module__, module)
+            for method, arguments in methods.items():
+                self.assertIn(method, vars(told), f"{name}.{method}")
+                parameters = inspect.signature(vars(told)[method]).parameters
+                self.assertEqual(list(parameters), ["self"] + arguments.split(), f"{name}.{method}")
+        self.assertEqual(inspect.signature(Ratio).parameters["bottom"].default, 1)
+
+    def test_attributes_are_set(self):
+        self.assertTrue({"top", "bottom"} <= set(vars(Ratio(1, 2))))
+        self.assertTrue({"sizes", "never"} <= set(vars(Space([2]))))
+
+    def test_the_space_comes_first_in_each_function_that_has_one(self):
+        for module, functions in FUNCTIONS.items():
+            for name, arguments in functions.items():
+                if arguments.startswith("space "):
+                    function = getattr(importlib.import_module(module), name)
+                    given = [2]
+                    with self.assertRaises(InvalidSpace) as caught:
+                        function(**{argument: given for argument in arguments.split()})
+                    self.assertIs(caught.exception.given, given)
+
+    def test_space_stays(self):
+        space = Space([2, 2])
+        kept = {name: value for name, value in vars(space).items()}
+        from endlots.lots import as_lot, sure
+        from endlots.texts import is_text
+        [as_lot(space, [1] * 5), sure(space, 1), is_text(space, ("skip",)), space.at(0), space.store([0, 0])]
+        self.assertEqual(vars(space), kept)
+
+
+if __name__ == "__main__":
+    unittest.main()
