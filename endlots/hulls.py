@@ -99,7 +99,7 @@ def nearest(lots, lot):
         costs = costs + [1, 0]
     columns = columns + [[(count, 1)]]
     costs = costs + [0]
-    start = [len(lots) + 2 * outcome for outcome in range(count + 1)]
+    start = [len(lots) + 2 * row for row in range(count + 1)]
     amounts, prices, scale = cheapest(columns, costs, list(lot) + [sum(lot)], start)
     missing = sum([amounts[column] for column in start[:count]])
     shares = [Ratio(amount * sum(other), scale * sum(lot)) for amount, other in zip(amounts, lots)]
