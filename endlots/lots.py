@@ -32,7 +32,7 @@ def sure(space, outcome):
     need_space(space)
     if not is_index(outcome, space.never + 1):
         raise InvalidOutcome(outcome)
-    return tuple([int(at == outcome) for at in range(space.never + 1)])
+    return sure_lot(outcome, space.never)
 
 
 def share(lot, outcome):
@@ -63,6 +63,16 @@ def blend(lots, weights):
     need_lots(lots)
     if not is_weights(weights, len(lots)):
         raise InvalidWeights(weights)
+    return mixed_lot(lots, weights)
+
+
+def sure_lot(outcome, never):
+    """The lot with outcomes up to never in which the outcome has the share 1."""
+    return tuple([int(at == outcome) for at in range(never + 1)])
+
+
+def mixed_lot(lots, weights):
+    """The blend of however many lots with shares that are to one another as the weights."""
     return lowest(blended(lots, weights)[0])
 
 

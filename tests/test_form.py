@@ -1,6 +1,7 @@
 """Tests of the form of the package's files: what LANGUAGE.md asks for and a test can see at once."""
 
 import ast
+import builtins
 import pathlib
 import unittest
 
@@ -64,6 +65,47 @@ class TestForm(unittest.TestCase):
             if isinstance(node, ast.Assign):
                 defined.update(target.id for target in node.targets)
         self.assertTrue(names <= defined, f"{module}: {names - defined}")
+
+    def test_no_two_files_import_from_each_other(self):
+        known = {}
+        for path, tree in self.trees():
+            names = [node.module for node in ast.walk(tree) if isinstance(node, ast.ImportFrom)]
+            known[f"endlots.{path.stem}"] = [name for name in names if name.startswith("endlots.")]
+        for name in known:
+            reached, waiting = set(), list(known[name])
+            while waiting:
+                other = waiting.pop()
+                if other not in reached:
+                    reached.add(other)
+                    waiting += known[other]
+            self.assertNotIn(name, reached)
+
+    def test_names(self):
+        barred = set(dir(builtins)) | {"register", "mro", "elements", "law"}
+        for path, tree in self.trees():
+            bound = {alias.name for node in ast.walk(tree) if isinstance(node, ast.ImportFrom) for alias in node.names}
+            bound |= {node.name for node in ast.walk(tree) if isinstance(node, ast.ClassDef)}
+            for node in ast.walk(tree):
+                if isinstance(node, ast.Name) and isinstance(node.ctx, ast.Store):
+                    self.assertNotIn(node.id, barred | bound, f"{path}:{node.lineno}")
+                if isinstance(node, ast.arg):
+                    self.assertNotIn(node.arg, barred | bound, f"{path}:{node.lineno}")
+                if isinstance(node, ast.FunctionDef):
+                    self.assertNotIn(node.name, barred, f"{path}:{node.lineno}")
+
+    def test_lists_where_an_operator_may_be_met(self):
+        """No generator expressions, sets only where they are sorted or counted, and no sorting in place."""
+        for path, tree in self.trees():
+            sets = []
+            for node in ast.walk(tree):
+                self.assertNotIsInstance(node, (ast.GeneratorExp, ast.Yield, ast.YieldFrom, ast.Lambda), path)
+                if isinstance(node, ast.Call) and isinstance(node.func, ast.Name):
+                    if node.func.id in ("sorted", "len"):
+                        sets += node.args
+                    if node.func.id == "set":
+                        self.assertIn(node, sets, f"{path}:{node.lineno}")
+                if isinstance(node, ast.Attribute):
+                    self.assertNotIn(node.attr, ("sort", "format", "union"), f"{path}:{node.lineno}")
 
     def test_no_floats_and_no_state(self):
         wrong = (ast.Global, ast.AsyncFunctionDef, ast.Div)

@@ -28,6 +28,18 @@ FUNCTIONS = {
         "fill": "space surrounding text",
     },
     "endlots.lines": {"line_of": "text", "read_text": "space line", "read_surrounding": "space line"},
+    "endlots.courses": {"followed": "space text store sides draws", "behind": "space text store chooser steps"},
+    "endlots.rows": {
+        "first": "space text store", "moves": "space text row", "met": "space text store", "stays": "space text store",
+        "turns": "space text store", "is_stays": "space text store value",
+    },
+    "endlots.picks": {
+        "eithers": "space text store", "picks": "space text store", "is_pick": "space text store value",
+        "lot_by": "space text store pick", "passes_by": "space text store pick", "is_dice": "space text store value",
+        "lot_by_dice": "space text store dice", "passes_by_dice": "space text store dice",
+        "is_blend": "space text store value", "lot_of_blend": "space text store blend",
+        "passes_of_blend": "space text store blend",
+    },
 }
 
 CLASSES = {
@@ -85,6 +97,8 @@ class TestInterface(unittest.TestCase):
         from endlots.lots import as_lot, sure
         from endlots.texts import is_text
         [as_lot(space, [1] * 5), sure(space, 1), is_text(space, ("skip",)), space.at(0), space.store([0, 0])]
+        from endlots.picks import passes_by
+        passes_by(space, ("while", [0], ("draw", 1, (0, 1), (1, 1))), 0, ())
         self.assertEqual(vars(space), kept)
 
 
