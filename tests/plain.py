@@ -324,3 +324,79 @@ class Drawn:
             scenes = [PlainScene(space, text, store) for text in texts for store in range(len(space))]
             if all(len(scene.eithers) <= most_eithers and len(scene.rows) <= most_rows for scene in scenes):
                 return (space, *texts)
+
+
+def is_number(value):
+    return type(value) in (int, Ratio)
+
+
+def is_listed(value, rows, length):
+    """Whether a value is a list of tuples of so many items that begin with just these rows, in order."""
+    if not isinstance(value, (list, tuple)) or len(value) != len(rows):
+        return False
+    return all(
+        type(item) is tuple and len(item) == length and same_row(item[0], row) for item, row in zip(value, rows))
+
+
+def same_row(value, row):
+    if type(value) is not tuple or len(value) != 2 or type(value[0]) is not tuple or type(value[1]) is not int:
+        return False
+    return all(type(at) is int for at in value[0]) and value == row
+
+
+def is_lot_value(value, count):
+    if type(value) is not tuple or len(value) != count or not all(type(one) is int and one >= 0 for one in value):
+        return False
+    return gcd(*value) == 1
+
+
+def is_payoff_value(value, count):
+    return isinstance(value, (list, tuple)) and len(value) == count and all(type(one) is int for one in value)
+
+
+def place_numbers(payoff, table):
+    numbers = {outcome: Fraction(one) for outcome, one in enumerate(payoff)}
+    numbers.update({row: fraction(number) for row, number in table})
+    return numbers
+
+
+def plain_is_table(scene, payoff, value):
+    """By the words of [83]."""
+    if not is_listed(value, scene.rows, 2) or not all(is_number(number) for _, number in value):
+        return False
+    numbers = place_numbers(payoff, value)
+    for row in scene.rows:
+        if any(numbers[row] < scene.mean_of(move, numbers) for move in scene.moves[row]):
+            return False
+    return all(numbers[row] >= payoff[scene.never] for row in scene.staying())
+
+
+def plain_is_against(scene, lot, value):
+    if type(value) is not tuple or len(value) != 2 or not is_payoff_value(value[0], scene.never + 1):
+        return False
+    payoff, table = value
+    return plain_is_table(scene, payoff, table) and place_numbers(payoff, table)[scene.place] < mean_by(lot, payoff)
+
+
+def plain_is_pick(scene, value):
+    return type(value) is tuple and len(value) == len(scene.eithers) and all(
+        type(side) is int and side in (0, 1) for side in value)
+
+
+def plain_is_blend(scene, value):
+    if not isinstance(value, (list, tuple)) or not value:
+        return False
+    for one in value:
+        if type(one) is not tuple or len(one) != 2 or type(one[0]) is not int or one[0] < 1:
+            return False
+        if not plain_is_pick(scene, one[1]):
+            return False
+    return len({pick for _, pick in value}) == len(value)
+
+
+def plain_is_brought(scene, lot, value):
+    return plain_is_blend(scene, value) and scene.blended_lot(value) == lot
+
+
+def plain_is_sides(scene, value):
+    return is_listed(value, scene.eithers, 2) and all(type(side) is int and side in (0, 1) for _, side in value)

@@ -40,6 +40,25 @@ FUNCTIONS = {
         "is_blend": "space text store value", "lot_of_blend": "space text store blend",
         "passes_of_blend": "space text store blend",
     },
+    "endlots.forward": {
+        "ends": "space text store", "brought": "space text store lot", "is_brought": "space text store lot value",
+        "is_against": "space text store lot value",
+    },
+    "endlots.backward": {
+        "best": "space text store payoff", "least": "space text store payoff", "table": "space text store payoff",
+        "best_sides": "space text store payoff", "is_table": "space text store payoff value",
+        "is_best": "space text store payoff value",
+    },
+    "endlots.standing": {
+        "closed_lists": "space text store", "is_closed": "space text store value", "stands_for": "space text other",
+        "alike": "space text other", "paper_for": "space text other", "is_paper_for": "space text other value",
+    },
+    "endlots.times": {
+        "always_ends": "space text store", "falling": "space text store", "worst": "space text store",
+        "never_most": "space text store", "one_lot": "space text store", "is_falling": "space text store value",
+        "is_may_stay": "space text store value", "is_one_lot": "space text store value",
+        "is_two_lots": "space text store value",
+    },
 }
 
 CLASSES = {

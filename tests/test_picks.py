@@ -13,7 +13,7 @@ from endlots.picks import (
 from endlots.ratios import Ratio
 from endlots.spaces import Space
 from odd import any_values
-from plain import SKIP, Drawn, PlainScene, fraction, is_end, shares_of
+from plain import SKIP, Drawn, PlainScene, fraction, is_end, plain_is_blend, plain_is_pick, shares_of
 from test_rows import COIN, EIGHT, FORK, FREE, HEAD, TAKE, WRONG_SPACES, WRONG_STORES, WRONG_TEXTS
 
 # What each function that has a pick, dice or a blend raises for a wrong one.
@@ -24,26 +24,10 @@ JUDGED = [
 BIASED = [(1, 1), (999999, 10 ** 6), (10 ** 6, 1), (3, 7)]
 
 
-def plain_is_pick(scene, value):
-    return type(value) is tuple and len(value) == len(scene.eithers) and all(
-        type(side) is int and side in (0, 1) for side in value)
-
-
 def plain_is_dice(scene, value):
     return isinstance(value, (list, tuple)) and len(value) == len(scene.eithers) and all(
         type(one) is tuple and len(one) == 2 and all(type(weight) is int and weight >= 0 for weight in one) and any(one)
         for one in value)
-
-
-def plain_is_blend(scene, value):
-    if not isinstance(value, (list, tuple)) or not value:
-        return False
-    for one in value:
-        if type(one) is not tuple or len(one) != 2 or type(one[0]) is not int or one[0] < 1:
-            return False
-        if not plain_is_pick(scene, one[1]):
-            return False
-    return len({pick for _, pick in value}) == len(value)
 
 
 def in_fractions(passes):

@@ -1,0 +1,156 @@
+"""Times: whether a text always ends, how many rows are passed at most, and whether choices matter at all."""
+
+from endlots.chains import lots_of, moved_lot, pick_chain, place_lots
+from endlots.errors import MayStay, TwoLots
+from endlots.lots import is_lot
+from endlots.picks import all_picks, is_pick_of, picked_lot
+from endlots.places import (
+    MOST_EITHERS, is_by_rows, is_row_shape, leads_among, need_few_eithers, need_few_rows, need_scene, places_of,
+    staying_moves,
+)
+from endlots.shapes import is_integer, is_list
+from endlots.tables import best_found, is_not_below, is_numbers_by_rows, longest_found, mean_of, place_numbers
+
+
+def always_ends(space, text, store):
+    """Tell whether the text ends from the store with chance 1, whatever is chosen."""
+    return staying_moves(need_timed(space, text, store)) == {}
+
+
+def falling(space, text, store):
+    """The falling numbers that are least at each row."""
+    scene = need_timed(space, text, store)
+    need_no_staying(scene)
+    return longest_found(scene)[0]
+
+
+def is_falling(space, text, store, value):
+    """Tell whether any value is a list of falling numbers."""
+    scene = need_timed(space, text, store)
+    if not is_numbers_by_rows(scene, value):
+        return False
+    numbers = place_numbers(no_payoff(scene), value)
+    for row in scene.rows:
+        if not all([is_not_below(numbers[row] - 1, mean_of(move, numbers)) for move in scene.moves[row]]):
+            return False
+    return True
+
+
+def worst(space, text, store):
+    """A tuple (number, sides): the greatest mean number of rows passed, and sides that bring it from each row met."""
+    scene = need_timed(space, text, store)
+    need_no_staying(scene)
+    numbered, sides = longest_found(scene)
+    return (place_numbers(no_payoff(scene), numbered)[scene.place], sides)
+
+
+def never_most(space, text, store):
+    """A tuple (number, sides, table): the greatest share of never, sides that bring it, and it from each row met."""
+    scene = need_timed(space, text, store)
+    payoff = no_payoff(scene)
+    payoff[scene.never] = 1
+    numbered, sides = best_found(scene, payoff)
+    return (place_numbers(payoff, numbered)[scene.place], sides, numbered)
+
+
+def is_may_stay(space, text, store, value):
+    """Tell whether any value is a tuple (way, rows) that shows that one may stay."""
+    scene = need_timed(space, text, store)
+    if not isinstance(value, tuple) or len(value) != 2:
+        return False
+    way, rows = value
+    if not is_way(scene, way) or not is_rows_met(scene, rows) or way[-1] not in rows:
+        return False
+    return all([any([leads_among(move, rows) for move in scene.moves[row]]) for row in rows])
+
+
+def one_lot(space, text, store):
+    """The list of the tuples (row, lot) of the lots that all choosers bring from the rows met on."""
+    scene = need_scene(space, text, store)
+    need_few_eithers([scene], MOST_EITHERS)
+    every_pick = all_picks(scene)
+    one = every_pick[0]
+    lot = picked_lot(scene, one)
+    for other in every_pick:
+        if picked_lot(scene, other) != lot:
+            raise TwoLots(one, other)
+    lots = lots_of(pick_chain(scene, one), scene.never)
+    return [(row, lots[row]) for row in scene.rows]
+
+
+def is_one_lot(space, text, store, value):
+    """Tell whether any value is a list of tuples (row, lot) that shows that all choosers bring one lot."""
+    scene = need_scene(space, text, store)
+    need_few_eithers([scene], MOST_EITHERS)
+    if not is_by_rows(value, scene.rows, 2) or not all([is_lot(space, lot) for _, lot in value]):
+        return False
+    lots = place_lots(scene.never, value)
+    for row in scene.rows:
+        if not all([moved_lot(move, lots) == lots[row] for move in scene.moves[row]]):
+            return False
+    return all([lots[row] == lots[scene.never] for row in staying_moves(scene)])
+
+
+def is_two_lots(space, text, store, value):
+    """Tell whether any value is a tuple of two picks that bring different lots."""
+    scene = need_scene(space, text, store)
+    need_few_eithers([scene], MOST_EITHERS)
+    if not isinstance(value, tuple) or len(value) != 2 or not all([is_pick_of(scene, pick) for pick in value]):
+        return False
+    return picked_lot(scene, value[0]) != picked_lot(scene, value[1])
+
+
+def need_timed(space, text, store):
+    """What can be met of a text from a store, if its rows are within the bound."""
+    scene = need_scene(space, text, store)
+    need_few_rows([scene])
+    return scene
+
+
+def no_payoff(scene):
+    """The payoff that is 0 for each outcome."""
+    return [0 for _ in range(scene.never + 1)]
+
+
+def need_no_staying(scene):
+    """Raise MayStay if there are rows at which one may stay."""
+    staying = staying_moves(scene)
+    if staying != {}:
+        raise MayStay(way_to(scene, staying), list(staying))
+
+
+def way_to(scene, rows):
+    """A shortest way from the first place to one of the rows, one of which can be met."""
+    before = {scene.place: None}
+    waiting = [scene.place]
+    at = 0
+    while waiting[at] not in rows:
+        for place in places_of(scene.moves[waiting[at]]):
+            if not is_integer(place) and place not in before:
+                before[place] = waiting[at]
+                waiting.append(place)
+        at = at + 1
+    way = [waiting[at]]
+    while before[way[0]] is not None:
+        way = [before[way[0]]] + way
+    return way
+
+
+def is_way(scene, value):
+    """Tell whether any value is a list of rows that leads from the first place on by moves."""
+    if not is_list(value) or len(value) == 0 or not all([is_row_met(scene, row) for row in value]):
+        return False
+    led = [value[at] in places_of(scene.moves[value[at - 1]]) for at in range(1, len(value))]
+    return value[0] == scene.place and all(led)
+
+
+def is_rows_met(scene, value):
+    """Tell whether any value is a set of rows that can be met."""
+    if not is_list(value) or not all([is_row_met(scene, row) for row in value]):
+        return False
+    return all([value[at - 1] < value[at] for at in range(1, len(value))])
+
+
+def is_row_met(scene, value):
+    """Tell whether any value is a row that can be met."""
+    return is_row_shape(value) and value in scene.moves
