@@ -4,7 +4,6 @@ from endlots.errors import InvalidPayoff
 from endlots.chains import ending_rows, side_chain
 from endlots.forward import is_payoff
 from endlots.places import need_few_rows, need_scene
-from endlots.ratios import is_number
 from endlots.tables import best_found, best_mean, is_sides_of, is_table_of, least_table, mean_of, place_numbers
 
 
@@ -40,9 +39,10 @@ def is_best(space, text, store, payoff, value):
     if not isinstance(value, tuple) or len(value) != 3:
         return False
     number, sides, numbered = value
-    if not is_number(number) or not is_sides_of(scene, sides) or not is_table_of(scene, payoff, numbered):
+    if not is_sides_of(scene, sides) or not is_table_of(scene, payoff, numbered):
         return False
     numbers = place_numbers(payoff, numbered)
+    # A Ratio equals a number of its worth, and no other value.
     return numbers[scene.place] == number and are_brought(scene, sides, numbers)
 
 

@@ -121,45 +121,31 @@ def lot_from(chain, place, never):
     return lots_of(part_from(chain, place), never)[place]
 
 
-def worths_of(chain, payoff):
-    """For each row of a chain the mean of the payoff from this row on; integers in the chain are outcomes."""
-    ending = ending_rows(chain)
-    never = len(payoff) - 1
-    terms = {}
-    bottoms = {}
-    for row in ending:
-        found = {never: 0}
-        for place, weight in chain[row]:
-            if place in ending:
-                found[place] = found.get(place, 0) + weight
-            else:
-                worth = payoff[place] if is_integer(place) else payoff[never]
-                found[never] = found[never] + weight * worth
-        terms[row] = found
-        bottoms[row] = weight_of(chain[row])
-    worths = solved_ratios(terms, bottoms, never)
-    return {row: worths.get(row, Ratio(payoff[never])) for row in chain}
+def worths_of(chain, payoff, each):
+    """For each row the mean payoff of the end that comes, and so much more for each row passed from this row on.
 
-
-def lengths_of(chain):
-    """For each row of a chain that surely ends the mean number of rows passed from this row on."""
+    From each row of the chain an end is come to with a chance above 0; integers in it are outcomes.
+    """
     terms = {}
     bottoms = {}
     for row in chain:
-        found = {0: weight_of(chain[row])}
+        bottom = weight_of(chain[row])
+        found = {0: bottom * each}
         for place, weight in chain[row]:
-            if not is_integer(place):
+            if is_integer(place):
+                found[0] = found[0] + weight * payoff[place]
+            else:
                 found[place] = found.get(place, 0) + weight
         terms[row] = found
-        bottoms[row] = weight_of(chain[row])
-    return solved_ratios(terms, bottoms, 0)
+        bottoms[row] = bottom
+    return solved_ratios(terms, bottoms)
 
 
-def solved_ratios(terms, bottoms, known):
-    """The unknowns of equations in which the terms at the known integer are numbers themselves."""
+def solved_ratios(terms, bottoms):
+    """The unknowns of equations in which the terms at 0 are numbers themselves."""
     equations = Equations(terms, bottoms)
     equations.solve()
-    return {row: Ratio(equations.terms[row].get(known, 0), equations.bottoms[row]) for row in equations.terms}
+    return {row: Ratio(equations.terms[row][0], equations.bottoms[row]) for row in equations.terms}
 
 
 def passes_of(chain, place):
@@ -201,4 +187,4 @@ def numbers_handed_on(chain, place):
             if other in terms:
                 terms[other][row] = terms[other].get(row, 0) + weight * often
     terms[place][0] = bottom
-    return solved_ratios(terms, {row: bottom for row in chain}, 0)
+    return solved_ratios(terms, {row: bottom for row in chain})

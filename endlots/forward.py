@@ -4,7 +4,7 @@ from endlots.errors import InvalidLot, NotBrought, Outside
 from endlots.hulls import corners, shares_in
 from endlots.lots import is_lot, lowest, mean
 from endlots.picks import all_picks, blended_lot, is_blend_of, picked_lot
-from endlots.places import MOST_EITHERS, need_few_eithers, need_scene
+from endlots.places import MOST_EITHERS, need_few_eithers, need_scene, need_small_scene
 from endlots.ratios import on_one_bottom
 from endlots.shapes import is_integer, is_list
 from endlots.tables import is_table_of, least_table, place_numbers
@@ -12,9 +12,7 @@ from endlots.tables import is_table_of, least_table, place_numbers
 
 def ends(space, text, store):
     """The ascending list of the corners of the lots that choosers can bring with the text from the store."""
-    scene = need_scene(space, text, store)
-    need_few_eithers([scene], MOST_EITHERS)
-    return corners(list(brought_lots(scene)))
+    return corners(list(brought_lots(need_small_scene(space, text, store, MOST_EITHERS))))
 
 
 def brought(space, text, store, lot):

@@ -3,30 +3,24 @@
 from endlots.chains import dice_chain, lot_from, passes_of, pick_chain
 from endlots.errors import InvalidBlend, InvalidDice, InvalidPick
 from endlots.lots import mixed_lot
-from endlots.places import MOST_EITHERS, need_few_eithers, need_few_rows, need_scene
+from endlots.places import MOST_EITHERS, need_few_rows, need_scene, need_small_scene
 from endlots.ratios import Ratio, total
 from endlots.shapes import is_index, is_integer, is_list
 
 
 def eithers(space, text, store):
     """The ascending list of the either rows that can be met from the store."""
-    scene = need_scene(space, text, store)
-    need_few_rows([scene])
-    return scene.eithers
+    return need_small_scene(space, text, store).eithers
 
 
 def picks(space, text, store):
     """The ascending list of all picks."""
-    scene = need_scene(space, text, store)
-    need_few_eithers([scene], MOST_EITHERS)
-    return all_picks(scene)
+    return all_picks(need_small_scene(space, text, store, MOST_EITHERS))
 
 
 def is_pick(space, text, store, value):
     """Tell whether any value is a pick."""
-    scene = need_scene(space, text, store)
-    need_few_rows([scene])
-    return is_pick_of(scene, value)
+    return is_pick_of(need_small_scene(space, text, store), value)
 
 
 def lot_by(space, text, store, pick):
@@ -43,9 +37,7 @@ def passes_by(space, text, store, pick):
 
 def is_dice(space, text, store, value):
     """Tell whether any value is dice."""
-    scene = need_scene(space, text, store)
-    need_few_rows([scene])
-    return is_dice_of(scene, value)
+    return is_dice_of(need_small_scene(space, text, store), value)
 
 
 def lot_by_dice(space, text, store, dice):
@@ -62,9 +54,7 @@ def passes_by_dice(space, text, store, dice):
 
 def is_blend(space, text, store, value):
     """Tell whether any value is a blend of picks."""
-    scene = need_scene(space, text, store)
-    need_few_rows([scene])
-    return is_blend_of(scene, value)
+    return is_blend_of(need_small_scene(space, text, store), value)
 
 
 def lot_of_blend(space, text, store, blend):

@@ -195,6 +195,16 @@ def need_scene(space, text, store):
     return Scene(space, text, store)
 
 
+def need_small_scene(space, text, store, most_eithers=None):
+    """What can be met of a text from a store; TooMany is raised behind the other errors, for either rows if told."""
+    scene = need_scene(space, text, store)
+    if most_eithers is None:
+        need_few_rows([scene])
+    else:
+        need_few_eithers([scene], most_eithers)
+    return scene
+
+
 def all_scenes(space, text):
     """What can be met of a text from each store, in order."""
     return [Scene(space, text, store) for store in range(space.never)]

@@ -2,7 +2,7 @@
 
 from endlots.errors import InvalidRow
 from endlots.places import (
-    is_row_tuple, leads_among, need_few_rows, need_places, need_scene, need_store, staying_moves, turns_of,
+    is_row_tuple, leads_among, need_places, need_small_scene, need_store, staying_moves, turns_of,
 )
 from endlots.shapes import is_index, is_integer, is_list
 
@@ -24,25 +24,25 @@ def moves(space, text, row):
 
 def met(space, text, store):
     """The set of the rows that can be met from the store."""
-    return few_rows(space, text, store).rows
+    return need_small_scene(space, text, store).rows
 
 
 def stays(space, text, store):
     """The list of the tuples (row, index) of the moves by which one stays among the rows at which one may stay."""
-    found = staying_moves(few_rows(space, text, store))
+    found = staying_moves(need_small_scene(space, text, store))
     return [(row, at) for row in found for at in found[row]]
 
 
 def turns(space, text, store):
     """The list of the tuples (row, turn) of the rows met at which one may not stay."""
-    scene = few_rows(space, text, store)
+    scene = need_small_scene(space, text, store)
     found = turns_of(scene)
     return [(row, found[row]) for row in scene.rows if row in found]
 
 
 def is_stays(space, text, store, value):
     """Tell whether any value is a tuple of two lists that show at which rows one may stay, and at which not."""
-    scene = few_rows(space, text, store)
+    scene = need_small_scene(space, text, store)
     if not isinstance(value, tuple) or len(value) != 2:
         return False
     if not all([is_list(part) and all([is_numbered_row(item) for item in part]) for part in value]):
@@ -54,13 +54,6 @@ def is_stays(space, text, store, value):
     if sorted(stay_rows + leave_rows) != scene.rows or len(set(staying)) != len(staying):
         return False
     return all_stay(scene, staying, stay_rows) and all_leave(scene, leaving)
-
-
-def few_rows(space, text, store):
-    """What can be met of a text from a store, if its rows are within the bound."""
-    scene = need_scene(space, text, store)
-    need_few_rows([scene])
-    return scene
 
 
 def is_numbered_row(value):

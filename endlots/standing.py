@@ -7,7 +7,7 @@ from endlots.hulls import corners, is_shares, nearest, shares_in
 from endlots.lots import is_lot, mixed_lot
 from endlots.picks import all_picks, is_pick_of, picked_lot
 from endlots.places import (
-    MOST_EITHERS, all_scenes, is_by_rows, need_few_eithers, need_few_rows, need_scene, staying_moves,
+    MOST_EITHERS, all_scenes, is_by_rows, need_few_eithers, need_few_rows, need_small_scene, staying_moves,
 )
 from endlots.shapes import is_index, is_list
 from endlots.spaces import need_space
@@ -18,31 +18,23 @@ FEW_EITHERS = 4
 
 def closed_lists(space, text, store):
     """The list of the tuples (row, lots, shares): the corners at each row met, and what shows that they are closed."""
-    scene = need_scene(space, text, store)
-    need_few_eithers([scene], FEW_EITHERS)
-    return least_lists(scene)
+    return least_lists(need_small_scene(space, text, store, FEW_EITHERS))
 
 
 def is_closed(space, text, store, value):
     """Tell whether any value is a list of tuples (row, lots, shares) with closed lists."""
-    scene = need_scene(space, text, store)
-    need_few_rows([scene])
-    return is_closed_in(scene, value)
+    return is_closed_in(need_small_scene(space, text, store), value)
 
 
 def stands_for(space, text, other):
     """Tell whether from each store each lot that the text brings is brought by the other one."""
-    scenes, others = need_both(space, text, other)
-    need_few_eithers(scenes, MOST_EITHERS)
-    need_few_eithers(others, MOST_EITHERS)
+    scenes, others = need_both_small(space, text, other, MOST_EITHERS)
     return lie_within(every_lot(scenes), every_lot(others))
 
 
 def alike(space, text, other):
     """Tell whether each of both texts stands for the other one."""
-    scenes, others = need_both(space, text, other)
-    need_few_eithers(scenes, MOST_EITHERS)
-    need_few_eithers(others, MOST_EITHERS)
+    scenes, others = need_both_small(space, text, other, MOST_EITHERS)
     lots = every_lot(scenes)
     other_lots = every_lot(others)
     return lie_within(lots, other_lots) and lie_within(other_lots, lots)
@@ -50,9 +42,7 @@ def alike(space, text, other):
 
 def paper_for(space, text, other):
     """A tuple that begins with "yes" or "no" and shows whether the text stands for the other one."""
-    scenes, others = need_both(space, text, other)
-    need_few_eithers(scenes, FEW_EITHERS)
-    need_few_eithers(others, FEW_EITHERS)
+    scenes, others = need_both_small(space, text, other, FEW_EITHERS)
     lots = every_lot(scenes)
     other_lots = every_lot(others)
     for store, other_scene in enumerate(others):
@@ -72,7 +62,7 @@ def is_paper_for(space, text, other, value):
     scenes, others = need_both(space, text, other)
     need_few_rows(scenes)
     need_few_rows(others)
-    if not isinstance(value, tuple) or len(value) == 0 or not isinstance(value[0], str):
+    if not isinstance(value, tuple) or len(value) == 0:
         return False
     if value[0] == "yes":
         return len(value) == 2 and are_papers(scenes, others, value[1])
@@ -89,6 +79,14 @@ def need_both(space, text, other):
     if not is_text(space, other):
         raise InvalidOther(other)
     return (all_scenes(space, text), all_scenes(space, other))
+
+
+def need_both_small(space, text, other, most_eithers):
+    """What can be met of both texts from each store; TooMany is raised behind the other errors, for the text first."""
+    scenes, others = need_both(space, text, other)
+    need_few_eithers(scenes, most_eithers)
+    need_few_eithers(others, most_eithers)
+    return (scenes, others)
 
 
 def every_lot(scenes):
@@ -122,7 +120,7 @@ def least_lists(scene):
     told = []
     for row in scene.rows:
         shares = [shares_shown(move, lists, lists[row]) for move in scene.moves[row]]
-        told.append((row, list(lists[row]), shares))
+        told.append((row, lists[row], shares))
     return told
 
 

@@ -1,6 +1,6 @@
 """Tables: numbers at the rows of a scene that no move raises; the least table, and sides that bring its numbers."""
 
-from endlots.chains import lengths_of, worths_of
+from endlots.chains import worths_of
 from endlots.lots import product_sum
 from endlots.places import is_by_rows, staying_moves
 from endlots.ratios import Ratio, as_ratio, is_number, on_one_bottom
@@ -26,6 +26,11 @@ def is_numbers_by_rows(scene, value):
 def is_sides_of(scene, value):
     """Tell whether any value is a list of tuples (row, side), ascending, one for each either row of a scene."""
     return is_by_rows(value, scene.eithers, 2) and all([is_index(side, 2) for _, side in value])
+
+
+def no_payoff(scene):
+    """The payoff that is 0 for each outcome."""
+    return [0 for _ in range(scene.never + 1)]
 
 
 def place_numbers(payoff, numbered):
@@ -61,21 +66,16 @@ def best_mean(scene, payoff):
 def best_found(scene, payoff):
     """A tuple (table, sides): the least table for a payoff, and sides that bring its numbers from each row."""
     staying = staying_moves(scene)
-    # A move that stops at never is worth what going on for ever is worth, and shows where this is the best.
+    # A move that stops at never is worth what going on for ever is worth. Where all begin with it, each row leads to
+    # an end or to it, and so it stays: moves that are better in the mean lead into no round that nothing leads out of.
     moves = {row: scene.moves[row] for row in scene.rows}
     for row in staying:
         moves[row] = scene.moves[row] + [[(scene.never, 1)]]
     choices = {row: len(moves[row]) - 1 if row in staying else 0 for row in moves}
-    while True:
-        worths = worths_of(chosen(moves, choices), payoff)
-        numbered = [(row, worths[row]) for row in scene.rows]
-        better = better_choices(moves, choices, place_numbers(payoff, numbered))
-        if better == choices:
-            break
-        choices = better
-    # Where the worth is that of never, staying leads to rows of this worth alone, and so brings it.
-    for row in staying:
-        if worths[row] == payoff[scene.never]:
+    numbered, choices = improved(moves, choices, payoff, 0)
+    for row, number in numbered:
+        # Where the worth is that of never, staying leads to rows of this worth alone, and so brings it.
+        if row in staying and number == payoff[scene.never]:
             choices[row] = staying[row][0]
     return (numbered, chosen_sides(scene, choices))
 
@@ -85,20 +85,20 @@ def longest_found(scene):
 
     From no row of the scene may one stay.
     """
-    choices = {row: 0 for row in scene.rows}
-    ends = [0 for _ in range(scene.never)]
+    numbered, choices = improved(scene.moves, {row: 0 for row in scene.rows}, no_payoff(scene), 1)
+    return (numbered, chosen_sides(scene, choices))
+
+
+def improved(moves, choices, payoff, each):
+    """A tuple (numbers, choices) that no other move betters, reached by taking better moves again and again."""
     while True:
-        lengths = lengths_of(chosen(scene.moves, choices))
-        numbered = [(row, lengths[row]) for row in scene.rows]
-        better = better_choices(scene.moves, choices, place_numbers(ends, numbered))
+        chain = {row: moves[row][choices[row]] for row in moves}
+        worths = worths_of(chain, payoff, each)
+        numbered = [(row, worths[row]) for row in moves]
+        better = better_choices(moves, choices, place_numbers(payoff, numbered))
         if better == choices:
-            return (numbered, chosen_sides(scene, choices))
+            return (numbered, choices)
         choices = better
-
-
-def chosen(moves, choices):
-    """The chain of the moves with the chosen indices."""
-    return {row: moves[row][choices[row]] for row in moves}
 
 
 def chosen_sides(scene, choices):
@@ -108,12 +108,7 @@ def chosen_sides(scene, choices):
 
 def better_choices(moves, choices, numbers):
     """The choices, with a move of the greatest mean where this is greater than that of the chosen one."""
-    found = {}
-    for row in moves:
-        found[row] = choices[row]
-        if len(moves[row]) > 1:
-            found[row] = better_choice([mean_of(move, numbers) for move in moves[row]], choices[row])
-    return found
+    return {row: better_choice([mean_of(move, numbers) for move in moves[row]], choices[row]) for row in moves}
 
 
 def better_choice(means, choice):

@@ -5,28 +5,29 @@ from endlots.errors import MayStay, TwoLots
 from endlots.lots import is_lot
 from endlots.picks import all_picks, is_pick_of, picked_lot
 from endlots.places import (
-    MOST_EITHERS, is_by_rows, is_row_shape, leads_among, need_few_eithers, need_few_rows, need_scene, places_of,
-    staying_moves,
+    MOST_EITHERS, is_by_rows, is_row_shape, leads_among, need_small_scene, places_of, staying_moves,
 )
 from endlots.shapes import is_integer, is_list
-from endlots.tables import best_found, is_not_below, is_numbers_by_rows, longest_found, mean_of, place_numbers
+from endlots.tables import (
+    best_found, is_not_below, is_numbers_by_rows, longest_found, mean_of, no_payoff, place_numbers,
+)
 
 
 def always_ends(space, text, store):
     """Tell whether the text ends from the store with chance 1, whatever is chosen."""
-    return staying_moves(need_timed(space, text, store)) == {}
+    return staying_moves(need_small_scene(space, text, store)) == {}
 
 
 def falling(space, text, store):
     """The falling numbers that are least at each row."""
-    scene = need_timed(space, text, store)
+    scene = need_small_scene(space, text, store)
     need_no_staying(scene)
     return longest_found(scene)[0]
 
 
 def is_falling(space, text, store, value):
     """Tell whether any value is a list of falling numbers."""
-    scene = need_timed(space, text, store)
+    scene = need_small_scene(space, text, store)
     if not is_numbers_by_rows(scene, value):
         return False
     numbers = place_numbers(no_payoff(scene), value)
@@ -38,7 +39,7 @@ def is_falling(space, text, store, value):
 
 def worst(space, text, store):
     """A tuple (number, sides): the greatest mean number of rows passed, and sides that bring it from each row met."""
-    scene = need_timed(space, text, store)
+    scene = need_small_scene(space, text, store)
     need_no_staying(scene)
     numbered, sides = longest_found(scene)
     return (place_numbers(no_payoff(scene), numbered)[scene.place], sides)
@@ -46,7 +47,7 @@ def worst(space, text, store):
 
 def never_most(space, text, store):
     """A tuple (number, sides, table): the greatest share of never, sides that bring it, and it from each row met."""
-    scene = need_timed(space, text, store)
+    scene = need_small_scene(space, text, store)
     payoff = no_payoff(scene)
     payoff[scene.never] = 1
     numbered, sides = best_found(scene, payoff)
@@ -55,7 +56,7 @@ def never_most(space, text, store):
 
 def is_may_stay(space, text, store, value):
     """Tell whether any value is a tuple (way, rows) that shows that one may stay."""
-    scene = need_timed(space, text, store)
+    scene = need_small_scene(space, text, store)
     if not isinstance(value, tuple) or len(value) != 2:
         return False
     way, rows = value
@@ -66,8 +67,7 @@ def is_may_stay(space, text, store, value):
 
 def one_lot(space, text, store):
     """The list of the tuples (row, lot) of the lots that all choosers bring from the rows met on."""
-    scene = need_scene(space, text, store)
-    need_few_eithers([scene], MOST_EITHERS)
+    scene = need_small_scene(space, text, store, MOST_EITHERS)
     every_pick = all_picks(scene)
     one = every_pick[0]
     lot = picked_lot(scene, one)
@@ -80,8 +80,7 @@ def one_lot(space, text, store):
 
 def is_one_lot(space, text, store, value):
     """Tell whether any value is a list of tuples (row, lot) that shows that all choosers bring one lot."""
-    scene = need_scene(space, text, store)
-    need_few_eithers([scene], MOST_EITHERS)
+    scene = need_small_scene(space, text, store, MOST_EITHERS)
     if not is_by_rows(value, scene.rows, 2) or not all([is_lot(space, lot) for _, lot in value]):
         return False
     lots = place_lots(scene.never, value)
@@ -93,23 +92,10 @@ def is_one_lot(space, text, store, value):
 
 def is_two_lots(space, text, store, value):
     """Tell whether any value is a tuple of two picks that bring different lots."""
-    scene = need_scene(space, text, store)
-    need_few_eithers([scene], MOST_EITHERS)
+    scene = need_small_scene(space, text, store, MOST_EITHERS)
     if not isinstance(value, tuple) or len(value) != 2 or not all([is_pick_of(scene, pick) for pick in value]):
         return False
     return picked_lot(scene, value[0]) != picked_lot(scene, value[1])
-
-
-def need_timed(space, text, store):
-    """What can be met of a text from a store, if its rows are within the bound."""
-    scene = need_scene(space, text, store)
-    need_few_rows([scene])
-    return scene
-
-
-def no_payoff(scene):
-    """The payoff that is 0 for each outcome."""
-    return [0 for _ in range(scene.never + 1)]
 
 
 def need_no_staying(scene):

@@ -1,12 +1,19 @@
 """How the tests ask: twice, with lists and with tuples, and with what was told changed in between."""
 
-from endlots.errors import MayStay, NotBrought, TooMany, TwoLots
+from endlots.errors import InvalidSpace, InvalidStore, InvalidText, MayStay, NotBrought, TooMany, TwoLots
 from endlots.ratios import Ratio
 from endlots.spaces import Space
 from odd import ErrorCase
 
 SKIP = ("skip",)
-TWO = Space([2])
+TWO, EIGHT = Space([2]), Space([2, 2, 2])
+FORK = ("either", SKIP, ("set", 0, [1, 1]))
+COIN = ("draw", 0, (0, 1), (1, 2))
+FREE = ("while", [0], FORK)
+HEAD, TAKE = ((), 0), ((0,), 0)
+WRONG_SPACES = [None, [2], (2,), "2", 2, SKIP, True]
+WRONG_TEXTS = [None, [], ("hole",), ("stop",), ["skip"], ("set", 0, [0, 2]), ("while", [2], SKIP), ("either", SKIP)]
+WRONG_STORES = [None, True, False, -1, 2, "0", [0], (0,), Ratio(0), Ratio(1), {}, TWO]
 
 
 def frozen(value):
@@ -82,6 +89,16 @@ class AskCase(ErrorCase):
             function(*arguments)
         self.assertEqual(caught.exception.count, count)
         self.assertIs(type(caught.exception.count), int)
+
+    def assert_first_errors(self, function, *more):
+        """A wrong space, text or store is told in this order, ahead of all that comes behind them and of TooMany."""
+        for space in WRONG_SPACES:
+            self.assert_raises_with(InvalidSpace, space, function, space, None, None, *more)
+        for text in WRONG_TEXTS:
+            self.assert_raises_with(InvalidText, text, function, TWO, text, None, *more)
+        for store in WRONG_STORES:
+            self.assert_raises_with(InvalidStore, store, function, TWO, ("either", SKIP, SKIP), store, *more)
+        self.assert_raises_with(InvalidStore, 8, function, EIGHT, with_rows(72), 8, *more)
 
     def assert_numbers(self, numbers):
         """Numbers that are told are Ratios."""

@@ -3,9 +3,11 @@
 import random
 import unittest
 
-from asking import TWO, AskCase, counted_eithers, nested_eithers, spoilt, with_rows
+from asking import (
+    COIN, EIGHT, FORK, FREE, HEAD, TAKE, TWO, AskCase, counted_eithers, nested_eithers, spoilt, with_rows,
+)
 from endlots.backward import best, best_sides, is_best, is_table, least, table
-from endlots.errors import InvalidPayoff, InvalidSpace, InvalidStore, InvalidText
+from endlots.errors import InvalidPayoff
 from endlots.picks import lot_by
 from endlots.ratios import Ratio
 from endlots.spaces import Space
@@ -15,7 +17,6 @@ from plain import (
     SKIP, Drawn, PlainScene, fraction, is_end, is_number, mean_by, place_numbers, plain_is_sides, plain_is_table, ratio,
 )
 from test_picks import BIASED
-from test_rows import COIN, EIGHT, FORK, FREE, HEAD, TAKE, WRONG_SPACES, WRONG_STORES, WRONG_TEXTS
 
 WRONG_PAYOFFS = [
     None, True, 0, "000", [], (), [0, 0], [0, 0, 0, 0], [0, 0, True], [False, 0, 0], [0, 0, Ratio(1)], [0, 0, None],
@@ -303,18 +304,12 @@ class TestBounds(BackwardCase):
         many = with_rows(72)
         for function in (best, least, table, best_sides, is_table, is_best):
             more = (None,) if function in (is_table, is_best) else ()
-            for space in WRONG_SPACES:
-                self.assert_raises_with(InvalidSpace, space, function, space, None, None, None, *more)
-            for text in WRONG_TEXTS:
-                self.assert_raises_with(InvalidText, text, function, TWO, text, None, None, *more)
-            for store in WRONG_STORES:
-                self.assert_raises_with(InvalidStore, store, function, TWO, FORK, store, None, *more)
+            self.assert_first_errors(function, None, *more)
             for payoff in WRONG_PAYOFFS:
                 self.assert_raises_with(InvalidPayoff, payoff, function, TWO, FREE, 0, payoff, *more)
                 self.assert_raises_with(InvalidPayoff, payoff, function, EIGHT, many, 0, payoff, *more)
             for payoff in any_values():
                 self.assert_raises_with(InvalidPayoff, payoff, function, EIGHT, SKIP, 0, payoff, *more)
-            self.assert_raises_with(InvalidStore, 8, function, EIGHT, many, 8, None, *more)
 
     def test_payoffs_that_the_package_told(self):
         large = 10 ** 500

@@ -5,7 +5,7 @@ import unittest
 from fractions import Fraction
 from itertools import product
 
-from asking import TWO, AskCase, frozen, with_rows
+from asking import COIN, FORK, TWO, WRONG_STORES, AskCase, frozen, with_rows
 from endlots.courses import behind, followed
 from endlots.errors import (
     InvalidDraws, InvalidShare, InvalidSides, InvalidSpace, InvalidSteps, InvalidStore, InvalidText,
@@ -14,10 +14,6 @@ from endlots.ratios import Ratio
 from endlots.spaces import Space, read_space
 from odd import ALL_SIZES, any_values
 from plain import SKIP, Drawn, Plain, PlainScene, fraction, is_end
-
-NO_STORES = [None, True, False, -1, 2, "0", [0], (0,), Ratio(0), Ratio(1), {}, TWO]
-FORK = ("either", SKIP, ("set", 0, [1, 1]))
-COIN = ("draw", 0, (0, 1), (1, 2))
 
 
 def is_answers(value):
@@ -200,7 +196,7 @@ class TestFollowed(AskCase):
             self.assert_raises_with(InvalidSpace, space, followed, space, None, None, None, None)
         for text in (None, [], ("hole",), ("stop",), ["skip"], ("set", 0, [0, 2]), ("while", [2], SKIP)):
             self.assert_raises_with(InvalidText, text, followed, TWO, text, None, None, None)
-        for store in NO_STORES:
+        for store in WRONG_STORES:
             self.assert_raises_with(InvalidStore, store, followed, TWO, FORK, store, None, None)
         wrong = [None, True, 0, "0", {}, {0: 0}, [True], [0, False], [2], [-1], [0, 0, 2], [Ratio(0)], [None], ["0"], [[0]]]
         for answers in wrong:
@@ -289,6 +285,12 @@ class TestBehind(AskCase):
         text = ("then", ("draw", 0, (0, 2), (1, 1)), ("if", [0], ("draw", 0, (0, 1), (1, 1)), ("while", [2], SKIP)))
         self.assertEqual(behind(space, text, 0, None, 1), [(3, Ratio(1, 2)), (((1, 0), 0), Ratio(1, 2))])
         self.assertEqual(behind(space, text, 0, None, 2), [(0, Ratio(1, 4)), (1, Ratio(1, 4)), (3, Ratio(1, 2))])
+
+    def test_rows_are_ascending(self):
+        text = ("then", COIN, ("then", ("set", 0, [1, 0]), FORK))
+        self.assertEqual(behind(TWO, text, 0, None, 1), [(((1, 1), 0), Ratio(2, 3)), (((1, 1), 1), Ratio(1, 3))])
+        text = ("then", COIN, ("if", [1], COIN, FORK))
+        self.assertEqual(behind(TWO, text, 0, None, 1), [(((1, 0), 1), Ratio(2, 3)), (((1, 1), 0), Ratio(1, 3))])
 
     def test_histories_that_cannot_come_are_not_asked_for(self):
         text, calls = ("then", FORK, ("then", FORK, FORK)), []
@@ -392,7 +394,7 @@ class TestBehind(AskCase):
 
         for steps in (None, True, False, -1, 9, "1", [1], Ratio(1), Ratio(0), 10 ** 60, {}, TWO):
             self.assert_raises_with(InvalidSteps, steps, behind, TWO, FORK, 0, chooser, steps)
-        for store in NO_STORES:
+        for store in WRONG_STORES:
             self.assert_raises_with(InvalidStore, store, behind, TWO, FORK, store, chooser, None)
         for text in (None, ("hole",), ["skip"], ("either", SKIP)):
             self.assert_raises_with(InvalidText, text, behind, TWO, text, None, chooser, None)

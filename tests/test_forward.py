@@ -5,10 +5,12 @@ import unittest
 from itertools import product
 from math import gcd
 
-from asking import TWO, AskCase, counted_eithers, nested_eithers, spoilt, with_rows
+from asking import (
+    COIN, EIGHT, FORK, FREE, HEAD, TAKE, TWO, AskCase, counted_eithers, nested_eithers, spoilt, with_rows,
+)
 from endlots.backward import table
 from endlots.courses import behind
-from endlots.errors import InvalidLot, InvalidSpace, InvalidStore, InvalidText, NotBrought, Outside
+from endlots.errors import InvalidLot, NotBrought, Outside
 from endlots.forward import brought, ends, is_against, is_brought
 from endlots.hulls import corners, shares_in
 from endlots.lots import as_lot
@@ -23,7 +25,6 @@ from plain import (
 from test_courses import by_history
 from test_lots import NO_LOTS, drawn_lot
 from test_picks import BIASED
-from test_rows import COIN, EIGHT, FORK, FREE, HEAD, TAKE, WRONG_SPACES, WRONG_STORES, WRONG_TEXTS
 
 
 def refusal(space, text, store, lot):
@@ -299,13 +300,7 @@ class TestBounds(ForwardCase):
     def test_which_error_comes_first(self):
         many = with_rows(72)
         for function, more in [(ends, ()), (brought, (None,)), (is_brought, (None, None)), (is_against, (None, None))]:
-            for space in WRONG_SPACES:
-                self.assert_raises_with(InvalidSpace, space, function, space, None, None, *more)
-            for text in WRONG_TEXTS:
-                self.assert_raises_with(InvalidText, text, function, TWO, text, None, *more)
-            for store in WRONG_STORES:
-                self.assert_raises_with(InvalidStore, store, function, TWO, FORK, store, *more)
-            self.assert_raises_with(InvalidStore, 8, function, EIGHT, many, 8, *more)
+            self.assert_first_errors(function, *more)
             if more:
                 for lot in NO_LOTS + [value for value in any_values()] + [(1, 0), (1, 0, 0, 0)]:
                     self.assert_raises_with(InvalidLot, lot, function, TWO, FREE, 0, lot, *more[1:])

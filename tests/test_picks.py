@@ -4,8 +4,10 @@ import random
 import unittest
 from itertools import product
 
-from asking import TWO, AskCase, counted_eithers, nested_eithers, spoilt, with_rows
-from endlots.errors import InvalidBlend, InvalidDice, InvalidPick, InvalidSpace, InvalidStore, InvalidText
+from asking import (
+    COIN, EIGHT, FORK, FREE, HEAD, TAKE, TWO, AskCase, counted_eithers, nested_eithers, spoilt, with_rows,
+)
+from endlots.errors import InvalidBlend, InvalidDice, InvalidPick
 from endlots.picks import (
     eithers, is_blend, is_dice, is_pick, lot_by, lot_by_dice, lot_of_blend, passes_by, passes_by_dice, passes_of_blend,
     picks,
@@ -14,7 +16,6 @@ from endlots.ratios import Ratio
 from endlots.spaces import Space
 from odd import any_values
 from plain import SKIP, Drawn, PlainScene, fraction, is_end, plain_is_blend, plain_is_pick, shares_of
-from test_rows import COIN, EIGHT, FORK, FREE, HEAD, TAKE, WRONG_SPACES, WRONG_STORES, WRONG_TEXTS
 
 # What each function that has a pick, dice or a blend raises for a wrong one.
 JUDGED = [
@@ -334,13 +335,7 @@ class TestBounds(PickCase):
         functions = [(function, (None,)) for function, _ in JUDGED]
         functions += [(eithers, ()), (picks, ()), (is_pick, (None,)), (is_dice, (None,)), (is_blend, (None,))]
         for function, more in functions:
-            for space in WRONG_SPACES:
-                self.assert_raises_with(InvalidSpace, space, function, space, None, None, *more)
-            for text in WRONG_TEXTS:
-                self.assert_raises_with(InvalidText, text, function, TWO, text, None, *more)
-            for store in WRONG_STORES:
-                self.assert_raises_with(InvalidStore, store, function, TWO, FORK, store, *more)
-            self.assert_raises_with(InvalidStore, 8, function, EIGHT, with_rows(72), 8, *more)
+            self.assert_first_errors(function, *more)
 
 
 if __name__ == "__main__":

@@ -3,22 +3,12 @@
 import random
 import unittest
 
-from asking import TWO, AskCase, spoilt, with_rows
-from endlots.errors import InvalidRow, InvalidSpace, InvalidStore, InvalidText
-from endlots.ratios import Ratio
+from asking import COIN, EIGHT, FORK, FREE, HEAD, TAKE, TWO, WRONG_SPACES, WRONG_TEXTS, AskCase, spoilt, with_rows
+from endlots.errors import InvalidRow, InvalidSpace, InvalidText
 from endlots.rows import first, is_stays, met, moves, stays, turns
 from endlots.spaces import Space, read_space
 from odd import ALL_SIZES, any_values
 from plain import SKIP, Drawn, Plain, PlainScene, is_end
-
-EIGHT = Space([2, 2, 2])
-FORK = ("either", SKIP, ("set", 0, [1, 1]))
-COIN = ("draw", 0, (0, 1), (1, 2))
-FREE = ("while", [0], FORK)
-HEAD, TAKE = ((), 0), ((0,), 0)
-WRONG_SPACES = [None, [2], (2,), "2", 2, SKIP, True]
-WRONG_TEXTS = [None, [], ("hole",), ("stop",), ["skip"], ("set", 0, [0, 2]), ("while", [2], SKIP), ("either", SKIP)]
-WRONG_STORES = [None, True, False, -1, 2, "0", [0], (0,), Ratio(0), Ratio(1), {}, TWO]
 
 
 def plain_is_stays(scene, value):
@@ -290,24 +280,13 @@ class TestBounds(AskCase):
         self.assert_too_many(72, met, EIGHT, ("if", [0], SKIP, with_rows(72)), 1)
 
     def test_which_error_comes_first(self):
-        many = with_rows(72)
         for function in (first, met, stays, turns):
-            for space in WRONG_SPACES:
-                self.assert_raises_with(InvalidSpace, space, function, space, None, None)
-            for text in WRONG_TEXTS:
-                self.assert_raises_with(InvalidText, text, function, TWO, text, None)
-            for store in WRONG_STORES:
-                self.assert_raises_with(InvalidStore, store, function, TWO, FORK, store)
-            self.assert_raises_with(InvalidStore, 8, function, EIGHT, many, 8)
+            self.assert_first_errors(function)
+        self.assert_first_errors(is_stays, None)
         for space in WRONG_SPACES:
             self.assert_raises_with(InvalidSpace, space, moves, space, None, None)
-            self.assert_raises_with(InvalidSpace, space, is_stays, space, None, None, None)
         for text in WRONG_TEXTS:
             self.assert_raises_with(InvalidText, text, moves, TWO, text, None)
-            self.assert_raises_with(InvalidText, text, is_stays, TWO, text, None, None)
-        for store in WRONG_STORES:
-            self.assert_raises_with(InvalidStore, store, is_stays, TWO, FORK, store, None)
-        self.assert_raises_with(InvalidStore, 8, is_stays, EIGHT, many, 8, None)
 
     def test_plain_parts_of_the_stack(self):
         """The second way is no copy: what is still to be done stands in it from the whole down."""

@@ -6,8 +6,10 @@ from fractions import Fraction
 from itertools import product
 from math import gcd
 
-from asking import TWO, AskCase, counted_eithers, nested_eithers, spoilt, with_rows
-from endlots.errors import InvalidOther, InvalidSpace, InvalidStore, InvalidText, Outside
+from asking import (
+    COIN, EIGHT, FORK, FREE, HEAD, TAKE, TWO, WRONG_SPACES, WRONG_TEXTS, AskCase, counted_eithers, nested_eithers, spoilt, with_rows,
+)
+from endlots.errors import InvalidOther, InvalidSpace, InvalidText, Outside
 from endlots.forward import ends, is_against
 from endlots.hulls import corners, shares_in
 from endlots.ratios import Ratio
@@ -20,7 +22,6 @@ from plain import (
     plain_is_pick, shares_of,
 )
 from test_picks import BIASED
-from test_rows import COIN, EIGHT, FORK, FREE, HEAD, TAKE, WRONG_SPACES, WRONG_STORES, WRONG_TEXTS
 
 HANG = ("while", [0, 1], SKIP)
 ANYTHING = ("either", ("set", 0, [0, 0]), ("either", ("set", 0, [1, 1]), HANG))
@@ -207,6 +208,10 @@ class TestClosedLists(AskCase):
         told = closed_lists(space, same, 0)
         self.assertEqual([len(move) for move in told[0][2]], [4])
         self.assertEqual([str(one[0]) for one in told[0][2][0]], ["1", "1/3", "2/3", "0"])
+        # Equal lots at two choices have a list of shares each.
+        even = ("then", ("draw", 0, (0, 2), (1, 1)), same[2])
+        told = self.ask(closed_lists, space, even, 0)
+        self.assertEqual([str(one[0]) for one in told[0][2][0]], ["1", "1/2", "1/2", "0"])
 
     def test_no_rows(self):
         for text, store in [(SKIP, 0), (FREE, 1)]:
@@ -248,6 +253,13 @@ class TestClosedLists(AskCase):
         value = [(HEAD, wide, [units]), (TAKE, wide, [units, units[:1]])]
         self.assertIs(is_closed(TWO, FREE, 0, value), True)
 
+    def test_no_list_is_empty(self):
+        # Without this, lists of no lots at all would show themselves closed.
+        text = ("while", [0], COIN)
+        self.assertIs(is_closed(TWO, text, 0, [(HEAD, [], [[]]), (TAKE, [], [[]])]), False)
+        self.assertIs(is_closed(TWO, text, 0, [(HEAD, [(0, 1, 0)], [[[1]]]), (TAKE, [], [[]])]), False)
+        self.assertIs(is_closed(TWO, text, 0, [(HEAD, [(0, 1, 0)], [[[1]]]), (TAKE, [(0, 1, 0)], [[[1]]])]), True)
+
     def test_spoilt(self):
         chance = random.Random(703)
         drawn = Drawn(chance, weights=((1, 1), (1, 2)))
@@ -281,6 +293,9 @@ class TestStandsFor(AskCase):
                 (COIN, coin, False), (coin, coin, True), (("while", [0], coin), ONE, True), (ONE, ("while", [0], coin), True),
                 (("while", [0], coin), FREE, True), (FREE, ("while", [0], coin), False), (SKIP, ("if", [0], SKIP, FORK), True)]:
             self.assertIs(self.ask(stands_for, TWO, text, other), good, (text, other))
+            both = good and plain_stands_for(TWO, other, text)
+            self.assertIs(self.ask(alike, TWO, text, other), both)
+            self.assertIs(alike(TWO, other, text), both)
 
     def test_against_all_picks(self):
         chance = random.Random(704)
@@ -531,13 +546,7 @@ class TestBounds(AskCase):
     def test_which_error_comes_first(self):
         many = with_rows(72)
         for function, more in [(closed_lists, ()), (is_closed, (None,))]:
-            for space in WRONG_SPACES:
-                self.assert_raises_with(InvalidSpace, space, function, space, None, None, *more)
-            for text in WRONG_TEXTS:
-                self.assert_raises_with(InvalidText, text, function, TWO, text, None, *more)
-            for store in WRONG_STORES:
-                self.assert_raises_with(InvalidStore, store, function, TWO, FORK, store, *more)
-            self.assert_raises_with(InvalidStore, 8, function, EIGHT, many, 8, *more)
+            self.assert_first_errors(function, *more)
         for function, more in [(stands_for, ()), (alike, ()), (paper_for, ()), (is_paper_for, (None,))]:
             for space in WRONG_SPACES:
                 self.assert_raises_with(InvalidSpace, space, function, space, None, None, *more)

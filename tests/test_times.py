@@ -4,8 +4,8 @@ import random
 import unittest
 from fractions import Fraction
 
-from asking import TWO, AskCase, counted_eithers, nested_eithers, spoilt, with_rows
-from endlots.errors import InvalidSpace, InvalidStore, InvalidText, MayStay, TwoLots
+from asking import COIN, EIGHT, FREE, HEAD, TAKE, TWO, AskCase, counted_eithers, nested_eithers, spoilt, with_rows
+from endlots.errors import MayStay, TwoLots
 from endlots.forward import ends
 from endlots.ratios import Ratio
 from endlots.spaces import Space
@@ -17,7 +17,6 @@ from plain import (
     SKIP, Drawn, PlainScene, fraction, is_listed, is_lot_value, is_number, mix, plain_is_pick, plain_is_sides, same_row,
 )
 from test_picks import BIASED
-from test_rows import COIN, EIGHT, FORK, FREE, HEAD, TAKE, WRONG_SPACES, WRONG_STORES, WRONG_TEXTS
 
 TOSS = ("while", [0], ("draw", 0, (0, 1), (1, 1)))
 PLAIN = (always_ends, falling, worst, never_most, one_lot)
@@ -224,6 +223,20 @@ class TestMayStay(TimeCase):
         self.assertEqual(way, [((0, 0), 1), ((0, 1, 0), 0), ((1,), 0)])
         self.assertEqual(rows, [((1,), 0), ((1, 0), 0)])
 
+    def test_a_way_out_of_a_round(self):
+        space = Space([3])
+        ahead = ("while", [0], ("draw", 0, (0, 1), (1, 1)))
+        later = ("then", ("draw", 0, (1, 2), (1, 1)), ("while", [1], ("either", SKIP, ("set", 0, [2, 2, 2]))))
+        text = ("then", ahead, later)
+        way, rows = self.assert_way(space, text, 0, PlainScene(space, text, 0))
+        self.assertEqual(way, [((0,), 0), ((0, 0), 0), ((1, 0), 1), ((1, 1), 1)])
+        self.assertEqual(rows, [((1, 1), 1), ((1, 1, 0), 1)])
+        longer = way[:2] * 3 + way + [rows[1], rows[0]]
+        self.assertIs(is_may_stay(space, text, 0, (longer, rows)), True)
+        scene = PlainScene(space, text, 0)
+        for other in spoilt((longer, rows)):
+            self.assertIs(is_may_stay(space, text, 0, other), plain_is_may_stay(scene, other), other)
+
     def test_spoilt(self):
         for space, text, store, scene in by_both(self.drawn_scenes(604, 40, least_rows=3))[0][:10]:
             with self.assertRaises(MayStay) as caught:
@@ -365,13 +378,7 @@ class TestJudgesAndBounds(TimeCase):
     def test_which_error_comes_first(self):
         for function in PLAIN + JUDGES:
             more = (None,) if function in JUDGES else ()
-            for space in WRONG_SPACES:
-                self.assert_raises_with(InvalidSpace, space, function, space, None, None, *more)
-            for text in WRONG_TEXTS:
-                self.assert_raises_with(InvalidText, text, function, TWO, text, None, *more)
-            for store in WRONG_STORES:
-                self.assert_raises_with(InvalidStore, store, function, TWO, FORK, store, *more)
-            self.assert_raises_with(InvalidStore, 8, function, EIGHT, with_rows(72), 8, *more)
+            self.assert_first_errors(function, *more)
 
     def test_large_spaces(self):
         space = Space([8])
