@@ -1,9 +1,10 @@
 """Forward: the lots that choosers can bring, blends that bring them, and papers against others."""
 
+from endlots.branches import lots_by_picks
 from endlots.errors import InvalidLot, NotBrought, Outside
 from endlots.hulls import corners, shares_in
 from endlots.lots import is_lot, lowest, mean
-from endlots.picks import all_picks, blended_lot, is_blend_of, picked_lot
+from endlots.picks import all_picks, blended_lot, is_blend_of
 from endlots.places import MOST_EITHERS, need_few_eithers, need_scene, need_small_scene
 from endlots.ratios import on_one_bottom
 from endlots.shapes import is_integer, is_list
@@ -45,9 +46,17 @@ def need_lot_of(space, lot):
 
 def brought_lots(scene):
     """A dict of the lots that picks bring from the first place, each with the least such pick."""
-    found = {}
-    for pick in all_picks(scene):
-        found.setdefault(picked_lot(scene, pick), pick)
+    return every_brought([scene])[0]
+
+
+def every_brought(scenes):
+    """For each of some scenes of one text what brought_lots tells."""
+    found = []
+    for scene, lots in zip(scenes, lots_by_picks(scenes)):
+        picks_of = {}
+        for pick, lot in zip(all_picks(scene), lots):
+            picks_of.setdefault(lot, pick)
+        found.append(picks_of)
     return found
 
 

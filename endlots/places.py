@@ -84,12 +84,11 @@ class Places:
 
 
 class Scene:
-    """What can be met of a text from a store: the first place, the rows in order, and the moves of each."""
+    """What can be met of a text, told by its places, from a store: the first place, the rows in order, their moves."""
 
-    def __init__(self, space, text, store):
-        places = Places(space, text)
-        self.space = space
-        self.never = space.never
+    def __init__(self, places, store):
+        self.space = places.space
+        self.never = places.space.never
         self.place = places.first_from(store)
         met_moves = moves_met(places, self.place)
         self.rows = sorted(met_moves)
@@ -192,7 +191,7 @@ def need_scene(space, text, store):
     need_space(space)
     need_text(space, text)
     need_store(space, store)
-    return Scene(space, text, store)
+    return Scene(Places(space, text), store)
 
 
 def need_small_scene(space, text, store, most_eithers=None):
@@ -207,7 +206,8 @@ def need_small_scene(space, text, store, most_eithers=None):
 
 def all_scenes(space, text):
     """What can be met of a text from each store, in order."""
-    return [Scene(space, text, store) for store in range(space.never)]
+    places = Places(space, text)
+    return [Scene(places, store) for store in range(space.never)]
 
 
 def need_few_rows(scenes):

@@ -1,14 +1,16 @@
 """Standing: closed lists of lots at rows, and whether one text may stand for another one."""
 
-from endlots.chains import lots_of, pick_chain, place_lots
+from endlots.branches import place_lots_by_picks
+from endlots.chains import place_lots
 from endlots.errors import InvalidOther, NotBrought
-from endlots.forward import bringing_blend, brought_lots, is_bringing, is_paper_against
+from endlots.forward import bringing_blend, every_brought, is_bringing, is_paper_against
 from endlots.hulls import corners, is_shares, nearest, shares_in
 from endlots.lots import is_lot, mixed_lot
-from endlots.picks import all_picks, is_pick_of, picked_lot
+from endlots.picks import is_pick_of, picked_lot
 from endlots.places import (
     MOST_EITHERS, all_scenes, is_by_rows, need_few_eithers, need_few_rows, need_small_scene, staying_moves,
 )
+from endlots.ratios import Ratio
 from endlots.shapes import is_index, is_list
 from endlots.spaces import need_space
 from endlots.texts import is_text, need_text
@@ -18,7 +20,7 @@ FEW_EITHERS = 4
 
 def closed_lists(space, text, store):
     """The list of the tuples (row, lots, shares): the corners at each row met, and what shows that they are closed."""
-    return least_lists(need_small_scene(space, text, store, FEW_EITHERS))
+    return least_lists([need_small_scene(space, text, store, FEW_EITHERS)])[0]
 
 
 def is_closed(space, text, store, value):
@@ -29,31 +31,30 @@ def is_closed(space, text, store, value):
 def stands_for(space, text, other):
     """Tell whether from each store each lot that the text brings is brought by the other one."""
     scenes, others = need_both_small(space, text, other, MOST_EITHERS)
-    return lie_within(every_lot(scenes), every_lot(others))
+    return lie_within(every_brought(scenes), every_brought(others))
 
 
 def alike(space, text, other):
     """Tell whether each of both texts stands for the other one."""
     scenes, others = need_both_small(space, text, other, MOST_EITHERS)
-    lots = every_lot(scenes)
-    other_lots = every_lot(others)
+    lots = every_brought(scenes)
+    other_lots = every_brought(others)
     return lie_within(lots, other_lots) and lie_within(other_lots, lots)
 
 
 def paper_for(space, text, other):
     """A tuple that begins with "yes" or "no" and shows whether the text stands for the other one."""
     scenes, others = need_both_small(space, text, other, FEW_EITHERS)
-    lots = every_lot(scenes)
-    other_lots = every_lot(others)
+    lots = every_brought(scenes)
+    other_lots = every_brought(others)
     for store, other_scene in enumerate(others):
         refusal = refusal_from(store, lots[store], other_scene, other_lots[store])
         if refusal is not None:
             return refusal
     papers = []
-    for store, other_scene in enumerate(others):
-        told = corners(list(lots[store]))
-        blends = [bringing_blend(other_scene, other_lots[store], lot) for lot in told]
-        papers.append((least_lists(scenes[store]), blends))
+    for listed, own, other_scene, brought in zip(least_lists(scenes), lots, others, other_lots):
+        blends = [bringing_blend(other_scene, brought, lot) for lot in corners(list(own))]
+        papers.append((listed, blends))
     return ("yes", papers)
 
 
@@ -89,11 +90,6 @@ def need_both_small(space, text, other, most_eithers):
     return (scenes, others)
 
 
-def every_lot(scenes):
-    """For each scene a dict of the lots that picks bring, each with such a pick."""
-    return [brought_lots(scene) for scene in scenes]
-
-
 def lie_within(lots, other_lots):
     """Tell whether from each store all lots are blends of the other ones."""
     for found, others in zip(lots, other_lots):
@@ -114,24 +110,34 @@ def refusal_from(store, lots, other_scene, other_lots):
     return None
 
 
-def least_lists(scene):
-    """The closed lists of a scene that have the corners at each row, with shares that show it."""
-    lists = corner_lists(scene)
+def least_lists(scenes):
+    """For each of some scenes of one text the closed lists that have the corners at each row, with what shows it."""
+    lists = corner_lists(scenes)
+    shown = {}
     told = []
-    for row in scene.rows:
-        shares = [shares_shown(move, lists, lists[row]) for move in scene.moves[row]]
-        told.append((row, lists[row], shares))
+    for scene in scenes:
+        for row in scene.rows:
+            # A row has the same lists from each store; only lists that are told must not be at two places.
+            if row not in shown:
+                shown[row] = [shares_shown(move, lists, lists[row]) for move in scene.moves[row]]
+        told.append([(row, list(lists[row]), copied(shown[row])) for row in scene.rows])
     return told
 
 
-def corner_lists(scene):
-    """For each row and each outcome the corners of what choosers can bring from there on."""
-    found = {row: {} for row in scene.rows}
-    for pick in all_picks(scene):
-        lots = lots_of(pick_chain(scene, pick), scene.never)
-        for row in scene.rows:
-            found[row][lots[row]] = True
-    return listed_lots(scene, [(row, corners(list(found[row]))) for row in scene.rows])
+def copied(shown):
+    """A copy of lists of lists of shares, with new lists throughout."""
+    return [[list(shares) for shares in choices] for choices in shown]
+
+
+def corner_lists(scenes):
+    """For each row and each outcome the corners of what choosers can bring from there on, in scenes of one text."""
+    found = {}
+    for scene in scenes:
+        rows = [row for row in scene.rows if row not in found]
+        lots = place_lots_by_picks(scene, rows)
+        for row in rows:
+            found[row] = corners(list(lots[row]))
+    return listed_lots(scenes[0], list(found.items()))
 
 
 def listed_lots(scene, told):
@@ -156,8 +162,15 @@ def shares_shown(move, lists, lots):
     """For each choice for a move the shares with which the lots blend to what the choice gives."""
     given = given_lots(move, lists)
     # Many choices may give one lot.
-    known = {lot: shares_in(lots, lot) for lot in sorted(set(given))}
+    known = {lot: shares_among(lots, lot) for lot in sorted(set(given))}
     return [list(known[lot]) for lot in given]
+
+
+def shares_among(lots, lot):
+    """Shares with which lots, each of them once, blend to a lot."""
+    if lot in lots:
+        return [Ratio(int(other == lot)) for other in lots]
+    return shares_in(lots, lot)
 
 
 def is_closed_in(scene, value):

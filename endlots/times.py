@@ -2,8 +2,9 @@
 
 from endlots.chains import lots_of, moved_lot, pick_chain, place_lots
 from endlots.errors import MayStay, TwoLots
+from endlots.forward import brought_lots
 from endlots.lots import is_lot
-from endlots.picks import all_picks, is_pick_of, picked_lot
+from endlots.picks import is_pick_of, picked_lot
 from endlots.places import (
     MOST_EITHERS, is_by_rows, is_row_shape, leads_among, need_small_scene, places_of, staying_moves,
 )
@@ -68,14 +69,11 @@ def is_may_stay(space, text, store, value):
 def one_lot(space, text, store):
     """The list of the tuples (row, lot) of the lots that all choosers bring from the rows met on."""
     scene = need_small_scene(space, text, store, MOST_EITHERS)
-    every_pick = all_picks(scene)
-    one = every_pick[0]
-    lot = picked_lot(scene, one)
-    for other in every_pick:
-        if picked_lot(scene, other) != lot:
-            raise TwoLots(one, other)
-    lots = lots_of(pick_chain(scene, one), scene.never)
-    return [(row, lots[row]) for row in scene.rows]
+    lots = list(brought_lots(scene).items())
+    if len(lots) > 1:
+        raise TwoLots(lots[0][1], lots[1][1])
+    known = lots_of(pick_chain(scene, lots[0][1]), scene.never)
+    return [(row, known[row]) for row in scene.rows]
 
 
 def is_one_lot(space, text, store, value):
