@@ -9,7 +9,6 @@ what each integer is to be divided by.
 from endlots.chains import weight_of
 from endlots.equations import Equations
 from endlots.lots import divisor, lowest
-from endlots.shapes import is_integer
 
 
 class Branches:

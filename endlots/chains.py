@@ -122,15 +122,15 @@ def lot_from(chain, place, never):
 
 
 def worths_of(chain, payoff, each):
-    """For each row the mean payoff of the end that comes, and so much more for each row passed from this row on.
+    """For each row the mean payoff of the end that comes, and what each row passed from this row on has of each.
 
-    From each row of the chain an end is come to with a chance above 0; integers in it are outcomes.
+    From each row of the chain an end is come to with a chance above 0; integers in it are outcomes, or further ends.
     """
     terms = {}
     bottoms = {}
     for row in chain:
         bottom = weight_of(chain[row])
-        found = {0: bottom * each}
+        found = {0: bottom * each[row]}
         for place, weight in chain[row]:
             if is_integer(place):
                 found[0] = found[0] + weight * payoff[place]

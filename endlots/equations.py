@@ -8,10 +8,10 @@ from endlots.shapes import is_integer
 class Equations:
     """An equation for each row: its bottom times its unknown is the sum of its terms.
 
-    The terms of a row are a dict of integers from 0 on. One at a row counts the unknown of this row so often; one at
-    an integer belongs to a known value, which is left to the caller, and so does one at a row without an equation.
-    Where rows hand all of their weight to one another, so that a bottom becomes 0, the unknown is the known value at
-    the first one of the two integers of `endless`, or at the second one if other terms are left.
+    The terms of a row are a dict of integers. One at a row counts the unknown of this row so often, and is not below
+    0; one at an integer belongs to a known value, which is left to the caller, and so does one at a row without an
+    equation. Where rows hand all of their weight to one another, so that a bottom becomes 0, the unknown is the known
+    value at the first one of the two integers of `endless`, or at the second one if terms above 0 are left.
     """
 
     def __init__(self, terms, bottoms, endless=(0, 0)):

@@ -51,12 +51,14 @@ def brought_lots(scene):
 
 def every_brought(scenes):
     """For each of some scenes of one text what brought_lots tells."""
-    found = []
-    for scene, lots in zip(scenes, lots_by_picks(scenes)):
-        picks_of = {}
-        for pick, lot in zip(all_picks(scene), lots):
-            picks_of.setdefault(lot, pick)
-        found.append(picks_of)
+    return [first_picks(list(zip(all_picks(scene), lots))) for scene, lots in zip(scenes, lots_by_picks(scenes))]
+
+
+def first_picks(told):
+    """A dict of the lots in tuples (pick, lot), each with the first pick that it stands beside."""
+    found = {}
+    for pick, lot in told:
+        found.setdefault(lot, pick)
     return found
 
 

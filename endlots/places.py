@@ -1,7 +1,7 @@
 """Places: the rows of a text, where each of their moves leads, and what can be met from a store."""
 
 from endlots.errors import InvalidStore, TooMany
-from endlots.shapes import is_index, is_integer, is_list
+from endlots.shapes import is_ascending, is_index, is_integer, is_list
 from endlots.spaces import need_space
 from endlots.texts import children, in_tuples, listed_parts, need_text
 
@@ -87,6 +87,7 @@ class Scene:
     """What can be met of a text, told by its places, from a store: the first place, the rows in order, their moves."""
 
     def __init__(self, places, store):
+        self.places = places
         self.space = places.space
         self.never = places.space.never
         self.place = places.first_from(store)
@@ -139,9 +140,19 @@ def is_by_rows(value, rows, length):
     return [item[0] for item in value] == rows
 
 
-def turns_of(scene):
-    """The turn of each row that has one; rows at which one may stay have none."""
-    turns = {}
+def is_rows_met(scene, value):
+    """Tell whether any value is a set of rows that can be met."""
+    return is_list(value) and all([is_row_met(scene, row) for row in value]) and is_ascending(value)
+
+
+def is_row_met(scene, value):
+    """Tell whether any value is a row that can be met."""
+    return is_row_shape(value) and value in scene.moves
+
+
+def turns_of(scene, barred=()):
+    """The turn of each row that has one; rows at which one may stay have none, barred rows count as ends."""
+    turns = {row: 0 for row in barred}
     turn = 0
     while True:
         turn = turn + 1
@@ -157,9 +168,9 @@ def all_turn(moves, turns):
     return all([any([is_integer(place) or place in turns for place, _ in move]) for move in moves])
 
 
-def staying_moves(scene):
-    """For each row at which one may stay the indices of its moves that lead to such rows alone."""
-    turns = turns_of(scene)
+def staying_moves(scene, barred=()):
+    """For each row at which one may stay, barred rows left out, the indices of its moves that lead to such rows alone."""
+    turns = turns_of(scene, barred)
     staying = [row for row in scene.rows if row not in turns]
     found = {}
     for row in staying:

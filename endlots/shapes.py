@@ -25,7 +25,12 @@ def is_set_below(value, count):
     """Tell whether a value is an ascending list of different integers from 0 to below the count."""
     if not is_list(value) or not all([is_index(item, count) for item in value]):
         return False
-    return all([value[at - 1] < value[at] for at in range(1, len(value))])
+    return is_ascending(value)
+
+
+def is_ascending(items):
+    """Tell whether each item of a list is less than the next one; all are integers, or all are rows."""
+    return all([items[at - 1] < items[at] for at in range(1, len(items))])
 
 
 def is_digits(word):

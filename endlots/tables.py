@@ -34,8 +34,8 @@ def no_payoff(scene):
 
 
 def place_numbers(payoff, numbered):
-    """The numbers of all outcomes by a payoff and of the rows in a list of tuples (row, number), as Ratios."""
-    numbers = {outcome: Ratio(integer) for outcome, integer in enumerate(payoff)}
+    """The numbers of all outcomes by a list of numbers and of the rows in a list of tuples (row, number), as Ratios."""
+    numbers = {outcome: as_ratio(number) for outcome, number in enumerate(payoff)}
     for row, number in numbered:
         numbers[row] = as_ratio(number)
     return numbers
@@ -72,7 +72,7 @@ def best_found(scene, payoff):
     for row in staying:
         moves[row] = scene.moves[row] + [[(scene.never, 1)]]
     choices = {row: len(moves[row]) - 1 if row in staying else 0 for row in moves}
-    numbered, choices = improved(moves, choices, payoff, 0)
+    numbered, choices = improved(moves, choices, payoff, {row: 0 for row in moves})
     for row, number in numbered:
         # Where the worth is that of never, staying leads to rows of this worth alone, and so brings it.
         if row in staying and number == payoff[scene.never]:
@@ -85,12 +85,17 @@ def longest_found(scene):
 
     From no row of the scene may one stay.
     """
-    numbered, choices = improved(scene.moves, {row: 0 for row in scene.rows}, no_payoff(scene), 1)
+    each = {row: 1 for row in scene.rows}
+    numbered, choices = improved(scene.moves, {row: 0 for row in scene.rows}, no_payoff(scene), each)
     return (numbered, chosen_sides(scene, choices))
 
 
 def improved(moves, choices, payoff, each):
-    """A tuple (numbers, choices) that no other move betters, reached by taking better moves again and again."""
+    """A tuple (numbers, choices) that no other move betters, reached by taking better moves again and again.
+
+    By the choices one comes from each row to an end. Each has what a pass of a row is worth; it is not above 0 for any
+    row, or no moves lead round without end.
+    """
     while True:
         chain = {row: moves[row][choices[row]] for row in moves}
         worths = worths_of(chain, payoff, each)

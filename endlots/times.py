@@ -6,7 +6,7 @@ from endlots.forward import brought_lots
 from endlots.lots import is_lot
 from endlots.picks import is_pick_of, picked_lot
 from endlots.places import (
-    MOST_EITHERS, is_by_rows, is_row_shape, leads_among, need_small_scene, places_of, staying_moves,
+    MOST_EITHERS, is_by_rows, is_row_met, is_rows_met, leads_among, need_small_scene, places_of, staying_moves,
 )
 from endlots.shapes import is_integer, is_list
 from endlots.tables import (
@@ -126,15 +126,3 @@ def is_way(scene, value):
         return False
     led = [value[at] in places_of(scene.moves[value[at - 1]]) for at in range(1, len(value))]
     return value[0] == scene.place and all(led)
-
-
-def is_rows_met(scene, value):
-    """Tell whether any value is a set of rows that can be met."""
-    if not is_list(value) or not all([is_row_met(scene, row) for row in value]):
-        return False
-    return all([value[at - 1] < value[at] for at in range(1, len(value))])
-
-
-def is_row_met(scene, value):
-    """Tell whether any value is a row that can be met."""
-    return is_row_shape(value) and value in scene.moves

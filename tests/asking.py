@@ -1,6 +1,8 @@
 """How the tests ask: twice, with lists and with tuples, and with what was told changed in between."""
 
-from endlots.errors import InvalidSpace, InvalidStore, InvalidText, MayStay, NotBrought, TooMany, TwoLots
+from endlots.errors import (
+    InvalidSpace, InvalidStore, InvalidText, MayGoOn, MayStay, NoCommon, NotBrought, NotKept, TooMany, TwoLots,
+)
 from endlots.ratios import Ratio
 from endlots.spaces import Space
 from odd import ErrorCase
@@ -60,7 +62,7 @@ def outcome_of(function, arguments):
     """What a function tells: a value, or an error with what was worked out for it."""
     try:
         return function(*arguments)
-    except (MayStay, NotBrought, TwoLots) as error:
+    except (MayGoOn, MayStay, NoCommon, NotBrought, NotKept, TwoLots) as error:
         return (type(error).__name__, *[item for _, item in sorted(vars(error).items())])
 
 

@@ -2,7 +2,6 @@
 
 import random
 import unittest
-from fractions import Fraction
 from itertools import combinations
 
 from endlots.errors import InvalidLot, InvalidLots, Outside

@@ -59,6 +59,18 @@ FUNCTIONS = {
         "is_may_stay": "space text store value", "is_one_lot": "space text store value",
         "is_two_lots": "space text store value",
     },
+    "endlots.limits": {
+        "free_stays": "space text store limits", "kept": "space text store limits",
+        "is_kept": "space text store limits value", "is_fees": "space text store limits value",
+    },
+    "endlots.passing": {
+        "passed": "space text store lot", "struck_rows": "space text store row", "through": "space text store lot",
+        "passing_paper": "space text store lot row", "is_passing_paper": "space text store lot row value",
+    },
+    "endlots.meeting": {
+        "meeting": "space pairs", "is_meeting": "space pairs value", "is_no_common": "space pairs value",
+        "could_be": "space text lots", "is_could_be": "space text lots value",
+    },
 }
 
 CLASSES = {
