@@ -70,9 +70,13 @@ def bringing_blend(scene, lots, lot):
     except Outside as outside:
         payoff = outside.payoff
         raise NotBrought(payoff, least_table(scene, payoff)) from None
+    return blend_by_shares([lots[known] for known in told], shares)
+
+
+def blend_by_shares(picks, shares):
+    """The blend of picks with these shares, those without a share left out."""
     tops, _ = on_one_bottom(shares)
-    weights = lowest(tops)
-    return [(weight, lots[told[at]]) for at, weight in enumerate(weights) if weight > 0]
+    return [(weight, pick) for weight, pick in zip(lowest(tops), picks) if weight > 0]
 
 
 def is_bringing(scene, lot, value):

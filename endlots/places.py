@@ -10,10 +10,11 @@ MOST_EITHERS = 6
 
 
 class Places:
-    """A text of a space, by the paths of its parts."""
+    """A text of a space, or a surrounding with the lots of runs in its holes, by the paths of its parts."""
 
-    def __init__(self, space, text):
+    def __init__(self, space, text, run_lots=()):
         self.space = space
+        self.run_lots = run_lots
         self.by_path = {path: part for path, part in listed_parts(in_tuples(text), ())}
         self.known_moves = {}
 
@@ -76,11 +77,22 @@ class Places:
         """The moves of a row, worked out by the text."""
         path, store = row
         part = self.by_path[path]
+        if part[0] == "hole":
+            return [self.run_move(lot, self.path_behind(path)) for lot in self.run_lots[store]]
         if part[0] != "draw":
             return [[(self.place_from(path + (at,), store), 1)] for at in range(len(children(part)))]
         behind = self.path_behind(path)
         stores = [self.changed(store, part[1], value) for value in part[2]]
         return [[(self.place_from(behind, drawn), weight) for drawn, weight in zip(stores, part[3])]]
+
+    def run_move(self, lot, behind):
+        """The move of a run that brings a lot, if the part with a path is what begins behind it."""
+        found = []
+        for outcome, weight in enumerate(lot):
+            if weight > 0:
+                place = outcome if outcome == self.space.never else self.place_from(behind, outcome)
+                found.append((place, weight))
+        return found
 
 
 class Scene:
@@ -118,7 +130,7 @@ def is_row_of(part, store):
     """Tell whether a part has a row with a store."""
     if part[0] == "while":
         return store in part[1]
-    return part[0] == "draw" or part[0] == "either"
+    return part[0] in ("draw", "either", "hole")
 
 
 def is_row_shape(value):
@@ -169,7 +181,7 @@ def all_turn(moves, turns):
 
 
 def staying_moves(scene, barred=()):
-    """For each row at which one may stay, barred rows left out, the indices of its moves that lead to such rows alone."""
+    """For each row at which one may stay, barred rows left out, the indices of its moves to such rows alone."""
     turns = turns_of(scene, barred)
     staying = [row for row in scene.rows if row not in turns]
     found = {}

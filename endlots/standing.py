@@ -215,13 +215,18 @@ def are_papers(scenes, others, value):
 
 def is_paper_from(scene, other, value):
     """Tell whether any value is a tuple (lists, blends) of closed lists and of what brings the lots at their first."""
+    lots = lots_at_first(scene, value)
+    return lots is not None and all([is_bringing(other, lot, blend) for lot, blend in zip(lots, value[1])])
+
+
+def lots_at_first(scene, value):
+    """The lots at the first place in any value that is a tuple of closed lists and a list of as many; else None."""
     if not isinstance(value, tuple) or len(value) != 2 or not is_closed_in(scene, value[0]):
-        return False
-    lists = listed_lots(scene, [(row, lots) for row, lots, _ in value[0]])
-    lots = lists[scene.place]
+        return None
+    lots = listed_lots(scene, [(row, told) for row, told, _ in value[0]])[scene.place]
     if not is_list(value[1]) or len(value[1]) != len(lots):
-        return False
-    return all([is_bringing(other, lot, blend) for lot, blend in zip(lots, value[1])])
+        return None
+    return lots
 
 
 def is_refusal(scenes, others, store, pick, paper):

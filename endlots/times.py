@@ -28,14 +28,7 @@ def falling(space, text, store):
 
 def is_falling(space, text, store, value):
     """Tell whether any value is a list of falling numbers."""
-    scene = need_small_scene(space, text, store)
-    if not is_numbers_by_rows(scene, value):
-        return False
-    numbers = place_numbers(no_payoff(scene), value)
-    for row in scene.rows:
-        if not all([is_not_below(numbers[row] - 1, mean_of(move, numbers)) for move in scene.moves[row]]):
-            return False
-    return True
+    return is_falling_in(need_small_scene(space, text, store), value)
 
 
 def worst(space, text, store):
@@ -94,6 +87,17 @@ def is_two_lots(space, text, store, value):
     if not isinstance(value, tuple) or len(value) != 2 or not all([is_pick_of(scene, pick) for pick in value]):
         return False
     return picked_lot(scene, value[0]) != picked_lot(scene, value[1])
+
+
+def is_falling_in(scene, value):
+    """Tell whether any value is a list of falling numbers of a scene."""
+    if not is_numbers_by_rows(scene, value):
+        return False
+    numbers = place_numbers(no_payoff(scene), value)
+    for row in scene.rows:
+        if not all([is_not_below(numbers[row] - 1, mean_of(move, numbers)) for move in scene.moves[row]]):
+            return False
+    return True
 
 
 def need_no_staying(scene):

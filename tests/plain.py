@@ -92,7 +92,7 @@ class Plain:
         while todo:
             path, rest = todo[0], todo[1:]
             part = self.parts[path]
-            if part[0] in ("draw", "either") or part[0] == "while" and store in part[1]:
+            if part[0] in ("draw", "either", "hole") or part[0] == "while" and store in part[1]:
                 return (path, store)
             if part[0] == "then":
                 rest = [path + (0,), path + (1,)] + rest
@@ -142,8 +142,8 @@ class Plain:
 class PlainScene:
     """What can be met of a text from a store."""
 
-    def __init__(self, space, text, store):
-        self.plain = Plain(space, text)
+    def __init__(self, space, text, store, plain=None):
+        self.plain = plain or Plain(space, text)
         self.space = space
         self.never = self.plain.never
         self.place = self.plain.first(store)

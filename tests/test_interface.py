@@ -4,6 +4,7 @@ import importlib
 import inspect
 import unittest
 
+from endlots.bench import Bench
 from endlots.errors import InvalidSpace
 from endlots.ratios import Ratio
 from endlots.spaces import Space
@@ -71,6 +72,20 @@ FUNCTIONS = {
         "meeting": "space pairs", "is_meeting": "space pairs value", "is_no_common": "space pairs value",
         "could_be": "space text lots", "is_could_be": "space text lots value",
     },
+    "endlots.nearly": {
+        "lead": "space text other", "lead_paper": "space text other", "is_lead": "space text other value",
+        "runs_in": "space surrounding text store", "is_runs": "space surrounding text store value",
+        "bound_in": "space surrounding text other store",
+    },
+    "endlots.surely": {
+        "supports": "space text store", "surely": "space text store stores", "just": "space text store stores",
+        "is_surely": "space text store stores value", "is_just": "space text store stores value",
+        "surely_straight": "space text other", "surely_all": "space text other", "going_round": "space text other",
+    },
+    "endlots.normal": {
+        "normal": "space text", "needless": "space text", "struck": "space text", "forward_steps": "space text",
+    },
+    "endlots.bench": {"read_bench": "space lines"},
 }
 
 CLASSES = {
@@ -81,6 +96,12 @@ CLASSES = {
     },
     ("endlots.spaces", "Space"): {
         "__init__": "sizes", "at": "store", "store": "values", "line": "", "__len__": "", "__eq__": "other",
+    },
+    ("endlots.bench", "Bench"): {
+        "__init__": "space", "__len__": "", "__contains__": "name", "__eq__": "other", "names": "", "take": "name",
+        "put": "name text", "drop": "name", "rename": "name new", "edit": "name path part", "refine": "name path part",
+        "claim": "name other paper", "facts": "", "chain": "name other", "undo": "", "redo": "", "ends": "name store",
+        "best": "name store payoff", "always_ends": "name store", "lead": "name other", "lines": "",
     },
 }
 
@@ -107,10 +128,13 @@ class TestInterface(unittest.TestCase):
                 parameters = inspect.signature(vars(told)[method]).parameters
                 self.assertEqual(list(parameters), ["self"] + arguments.split(), f"{name}.{method}")
         self.assertEqual(inspect.signature(Ratio).parameters["bottom"].default, 1)
+        paper = inspect.signature(Bench.claim).parameters["paper"]
+        self.assertEqual([paper.default, paper.kind], [None, inspect.Parameter.KEYWORD_ONLY])
 
     def test_attributes_are_set(self):
         self.assertTrue({"top", "bottom"} <= set(vars(Ratio(1, 2))))
         self.assertTrue({"sizes", "never"} <= set(vars(Space([2]))))
+        self.assertIn("space", vars(Bench(Space([2]))))
 
     def test_the_space_comes_first_in_each_function_that_has_one(self):
         for module, functions in FUNCTIONS.items():
