@@ -2,7 +2,7 @@
 
 from endlots.branches import lots_by_picks
 from endlots.errors import InvalidLot, NotBrought, Outside
-from endlots.hulls import corners, shares_in
+from endlots.hulls import corners_of, shares_in
 from endlots.lots import is_lot, lowest, mean
 from endlots.picks import all_picks, blended_lot, is_blend_of
 from endlots.places import MOST_EITHERS, need_few_eithers, need_scene, need_small_scene
@@ -13,7 +13,7 @@ from endlots.tables import is_table_of, least_table, place_numbers
 
 def ends(space, text, store):
     """The ascending list of the corners of the lots that choosers can bring with the text from the store."""
-    return corners(list(brought_lots(need_small_scene(space, text, store, MOST_EITHERS))))
+    return corners_of(list(brought_lots(need_small_scene(space, text, store, MOST_EITHERS))))
 
 
 def brought(space, text, store, lot):
@@ -52,6 +52,16 @@ def brought_lots(scene):
 def every_brought(scenes):
     """For each of some scenes of one text what brought_lots tells."""
     return [first_picks(list(zip(all_picks(scene), lots))) for scene, lots in zip(scenes, lots_by_picks(scenes))]
+
+
+def corner_lists_of(lots):
+    """For each of some lists of lots its corners, in lists of their own; equal lists are asked but once."""
+    known = {}
+    for told in lots:
+        key = tuple(told)
+        if key not in known:
+            known[key] = corners_of(key)
+    return [list(known[tuple(told)]) for told in lots]
 
 
 def first_picks(told):

@@ -1,8 +1,8 @@
 """Nearly: how far a text leads over another one, and what that comes to in surroundings."""
 
 from endlots.errors import InvalidOther, InvalidSurrounding, MayGoOn
-from endlots.forward import blend_by_shares, every_brought, is_payoff
-from endlots.hulls import corners, how_far, nearest
+from endlots.forward import blend_by_shares, corner_lists_of, every_brought, is_payoff
+from endlots.hulls import Hull, how_far
 from endlots.lots import lowest, mean
 from endlots.picks import blended_lot, is_blend_of, is_pick_of, picked_lot
 from endlots.places import (
@@ -36,11 +36,12 @@ def lead_paper(space, text, other):
     # Where nothing leads, a payoff that is the same for all shows it.
     farthest = (0, list(lots[0].values())[0], [1 for _ in range(space.never + 1)])
     above = []
-    for store, lists in enumerate(least_lists(scenes)):
+    for store, (lists, corners) in enumerate(zip(least_lists(scenes), corner_lists_of(lots))):
         told = list(other_lots[store])
+        hull = Hull(told)
         blends = []
-        for lot in corners(list(lots[store])):
-            far, shares, prices, _ = nearest(told, lot)
+        for lot in corners:
+            far, shares, prices, _ = hull.nearest(lot)
             blends.append(blend_by_shares([other_lots[store][known] for known in told], shares))
             if number.below(far):
                 number = far
@@ -108,11 +109,14 @@ def bound_in(space, surrounding, text, other, store):
 
 def lead_of(lots, other_lots):
     """The lead of what picks bring from each store over what others bring there."""
-    numbers = [Ratio(0)]
+    numbers = {}
     for found, others in zip(lots, other_lots):
-        told = list(others)
-        numbers = numbers + [nearest(told, lot)[0] for lot in found if lot not in others]
-    return greatest(numbers)
+        # From several stores the same lots are often brought.
+        key = (tuple(found), tuple(others))
+        if key not in numbers:
+            hull = Hull(list(others))
+            numbers[key] = greatest([Ratio(0)] + [hull.nearest(lot)[0] for lot in found if lot not in others])
+    return greatest(list(numbers.values()))
 
 
 def are_above(scenes, others, number, value):
@@ -158,8 +162,7 @@ def need_around(space, surrounding, text):
 
 def scene_around(space, surrounding, lots, store):
     """What can be met of a surrounding with the lots of a text in its holes; TooMany is raised for too many rows."""
-    run_lots = [corners(list(found)) for found in lots]
-    scene = Scene(Places(space, surrounding, run_lots), store)
+    scene = Scene(Places(space, surrounding, corner_lists_of(lots)), store)
     need_few_rows([scene])
     return scene
 

@@ -1,8 +1,7 @@
 """Normal tables, sides of a text that are needless, and steps that put a text in other words."""
 
 from endlots.branches import lots_by_picks
-from endlots.forward import every_brought
-from endlots.hulls import corners
+from endlots.forward import corner_lists_of, every_brought
 from endlots.picks import all_picks
 from endlots.places import MOST_EITHERS, all_scenes, need_few_eithers
 from endlots.spaces import need_space
@@ -11,7 +10,7 @@ from endlots.texts import children, followed_down, in_tuples, is_text, listed_pa
 
 def normal(space, text):
     """The list of the corners of what can be brought with the text from each store."""
-    return [corners(list(lots)) for lots in every_brought(need_few(space, text))]
+    return corner_lists_of(every_brought(need_few(space, text)))
 
 
 def needless(space, text):
@@ -59,7 +58,7 @@ def need_few(space, text):
 def needless_sides(text, scenes):
     """The ascending list of the needless sides of a text of which the scenes are met."""
     told = [list(zip(all_picks(scene), lots)) for scene, lots in zip(scenes, lots_by_picks(scenes))]
-    tables = [corners(sorted(set([lot for _, lot in picks]))) for picks in told]
+    tables = corner_lists_of([sorted(set([lot for _, lot in picks])) for picks in told])
     paths = [path for path, part in listed_parts(text, ()) if part[0] == "either"]
     found = []
     for path in paths:

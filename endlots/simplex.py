@@ -4,6 +4,8 @@ A column is a list of tuples (row, integer), its entries other than 0. A mixture
 column; what it makes in a row is the sum of the amounts times the entries there. No cost is below 0.
 """
 
+from endlots.lots import product_sum
+
 
 class Mixture:
     """A mixture by as many columns as there are rows, and the inverse of these columns.
@@ -23,6 +25,22 @@ class Mixture:
     def cost(self):
         """The cost of the mixture, times the scale."""
         return sum([self.costs[column] * amount for column, amount in zip(self.taken, self.amounts)])
+
+    def worths(self):
+        """The prices of a cheapest mixture; where it costs nothing, the prices 0 show that nothing is cheaper."""
+        if self.cost() > 0:
+            return self.prices()
+        return [0 for _ in self.taken]
+
+    def amounts_for(self, goal):
+        """The amounts, times the scale, by which the taken columns make another goal at no cost, or None."""
+        found = []
+        for column, line in zip(self.taken, self.inverse):
+            amount = product_sum(line, goal)
+            if amount < 0 or (amount > 0 and self.costs[column] > 0):
+                return None
+            found.append(amount)
+        return found
 
     def prices(self):
         """What one more of the goal costs in each row, times the scale."""
@@ -88,24 +106,25 @@ def cheapest(columns, costs, goal, start):
     the prices one for each row, all times the scale. By these prices no column is worth more than it costs, and the
     goal is worth just what the mixture costs.
     """
+    mixture = cheapest_mixture(columns, costs, goal, start)
+    amounts = [0 for _ in columns]
+    for column, amount in zip(mixture.taken, mixture.amounts):
+        amounts[column] = amount
+    return (amounts, mixture.worths(), mixture.scale)
+
+
+def cheapest_mixture(columns, costs, goal, start):
+    """The cheapest mixture itself, for the same arguments."""
     mixture = Mixture(columns, costs, goal, start)
     first = False
-    # Nothing is cheaper than 0, and the prices 0 then show it.
+    # Nothing is cheaper than 0.
     while mixture.cost() > 0:
         entering = mixture.entering(first)
         if entering is None:
-            return (all_amounts(mixture), mixture.prices(), mixture.scale)
+            break
         parts = mixture.replaced_by(entering)
         leaving = mixture.leaving(parts)
         # Where nothing gets cheaper, taking the first column each time never comes round to the same columns again.
         first = mixture.amounts[leaving] == 0
         mixture.exchange(entering, parts, leaving)
-    return (all_amounts(mixture), [0 for _ in goal], mixture.scale)
-
-
-def all_amounts(mixture):
-    """The amounts of all columns, times the scale: 0 for those that are not taken."""
-    found = [0 for _ in mixture.columns]
-    for column, amount in zip(mixture.taken, mixture.amounts):
-        found[column] = amount
-    return found
+    return mixture

@@ -3,8 +3,8 @@
 from endlots.branches import place_lots_by_picks
 from endlots.chains import place_lots
 from endlots.errors import InvalidOther, NotBrought
-from endlots.forward import bringing_blend, every_brought, is_bringing, is_paper_against
-from endlots.hulls import corners, is_shares, nearest, shares_in
+from endlots.forward import bringing_blend, corner_lists_of, every_brought, is_bringing, is_paper_against
+from endlots.hulls import Hull, is_shares
 from endlots.lots import is_lot, mixed_lot
 from endlots.picks import is_pick_of, picked_lot
 from endlots.places import (
@@ -52,8 +52,8 @@ def paper_for(space, text, other):
         if refusal is not None:
             return refusal
     papers = []
-    for listed, own, other_scene, brought in zip(least_lists(scenes), lots, others, other_lots):
-        blends = [bringing_blend(other_scene, brought, lot) for lot in corners(list(own))]
+    for listed, own, other_scene, brought in zip(least_lists(scenes), corner_lists_of(lots), others, other_lots):
+        blends = [bringing_blend(other_scene, brought, lot) for lot in own]
         papers.append((listed, blends))
     return ("yes", papers)
 
@@ -92,11 +92,23 @@ def need_both_small(space, text, other, most_eithers):
 
 def lie_within(lots, other_lots):
     """Tell whether from each store all lots are blends of the other ones."""
+    known = {}
     for found, others in zip(lots, other_lots):
-        told = list(others)
-        for lot in found:
-            if lot not in others and nearest(told, lot)[0] != 0:
-                return False
+        # From several stores the same lots are often brought.
+        key = (tuple(found), tuple(others))
+        if key not in known:
+            known[key] = are_blends(found, others)
+        if not known[key]:
+            return False
+    return True
+
+
+def are_blends(lots, others):
+    """Tell whether all lots are blends of other ones."""
+    hull = Hull(list(others))
+    for lot in lots:
+        if lot not in others and hull.nearest(lot)[0] != 0:
+            return False
     return True
 
 
@@ -135,8 +147,8 @@ def corner_lists(scenes):
     for scene in scenes:
         rows = [row for row in scene.rows if row not in found]
         lots = place_lots_by_picks(scene, rows)
-        for row in rows:
-            found[row] = corners(list(lots[row]))
+        for row, corners in zip(rows, corner_lists_of([lots[row] for row in rows])):
+            found[row] = corners
     return listed_lots(scenes[0], list(found.items()))
 
 
@@ -161,16 +173,17 @@ def given_lots(move, lists):
 def shares_shown(move, lists, lots):
     """For each choice for a move the shares with which the lots blend to what the choice gives."""
     given = given_lots(move, lists)
+    hull = Hull(lots)
     # Many choices may give one lot.
-    known = {lot: shares_among(lots, lot) for lot in sorted(set(given))}
+    known = {lot: shares_among(hull, lot) for lot in sorted(set(given))}
     return [list(known[lot]) for lot in given]
 
 
-def shares_among(lots, lot):
-    """Shares with which lots, each of them once, blend to a lot."""
-    if lot in lots:
-        return [Ratio(int(other == lot)) for other in lots]
-    return shares_in(lots, lot)
+def shares_among(hull, lot):
+    """Shares with which the lots of a hull, each of them once, blend to a lot that they can blend to."""
+    if lot in hull.lots:
+        return [Ratio(int(other == lot)) for other in hull.lots]
+    return hull.nearest(lot)[1]
 
 
 def is_closed_in(scene, value):

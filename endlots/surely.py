@@ -1,8 +1,8 @@
 """Surely: the sets of stores in which a text can be made to end with certainty, and what follows in surroundings."""
 
 from endlots.errors import InvalidSet
-from endlots.forward import brought_lots, every_brought, is_payoff
-from endlots.hulls import corners
+from endlots.forward import brought_lots, corner_lists_of, every_brought, is_payoff
+from endlots.hulls import corners_of
 from endlots.lots import support
 from endlots.picks import blended_lot, is_blend_of, is_pick_of, picked_lot
 from endlots.places import MOST_EITHERS, need_few_eithers, need_few_rows, need_scene, need_small_scene
@@ -13,7 +13,7 @@ from endlots.tables import best_found, is_table_of, least_table, place_numbers
 
 def supports(space, text, store):
     """The ascending list of the supports of those corners that have no share of never."""
-    return supports_of(brought_lots(need_small_scene(space, text, store, MOST_EITHERS)))
+    return supports_of(corners_of(list(brought_lots(need_small_scene(space, text, store, MOST_EITHERS)))))
 
 
 def surely(space, text, store, stores):
@@ -124,17 +124,17 @@ def joined(sets):
     return sorted(set([item for items in sets for item in items]))
 
 
-def supports_of(lots):
-    """The ascending list of the supports of those corners of lots that have no share of never."""
-    ending = [support(lot) for lot in corners(list(lots)) if lot[-1] == 0]
+def supports_of(corners):
+    """The ascending list of the supports of those corners that have no share of never."""
+    ending = [support(lot) for lot in corners if lot[-1] == 0]
     return [list(items) for items in sorted(set([tuple(items) for items in ending]))]
 
 
 def both_supports(space, text, other):
     """For each store a tuple of the supports of both texts."""
     scenes, others = need_both_small(space, text, other, MOST_EITHERS)
-    found = every_brought(scenes)
-    return [(supports_of(lots), supports_of(rest)) for lots, rest in zip(found, every_brought(others))]
+    told = corner_lists_of(every_brought(scenes))
+    return [(supports_of(lots), supports_of(rest)) for lots, rest in zip(told, corner_lists_of(every_brought(others)))]
 
 
 def missed_supports(space, text, other):
