@@ -147,8 +147,9 @@ class Hull:
             if column >= self.others:
                 made = amount * sum(self.lots[column - self.others])
                 shares[column - self.others] = Ratio(made, mixture.scale * sum(lot))
-        # More of any lot brings the blend no farther away, so what is left of the whole may go to the first one.
-        shares[0] = shares[0] + (1 - total(shares))
+        if missing > 0:
+            # More of any lot brings the blend no farther away, so what is left of the whole may go to the first one.
+            shares[0] = shares[0] + (1 - total(shares))
         return (Ratio(missing, mixture.scale * sum(lot)), shares, prices, mixture.scale)
 
     def mixed(self, goal):

@@ -1,6 +1,6 @@
 """Lots: shares of outcomes, as tuples of integers in lowest terms."""
 
-from math import gcd
+from math import gcd, lcm
 
 from endlots.errors import InvalidLot, InvalidLots, InvalidOutcome, InvalidPayoff, InvalidWeights
 from endlots.ratios import Ratio, as_ratio, is_amount, is_number, on_one_bottom
@@ -78,10 +78,14 @@ def mixed_lot(lots, weights):
 
 def blended(lots, weights):
     """A tuple (tops, bottom): for each outcome the sum of its shares, each multiplied by the weight of its lot."""
-    factors = [as_ratio(weight).over(sum(lot)) for lot, weight in zip(lots, weights)]
-    tops, bottom = on_one_bottom(factors)
-    sums = [product_sum([lot[outcome] for lot in lots], tops) for outcome in range(len(lots[0]))]
-    return (sums, bottom)
+    told = [(lot, as_ratio(weight)) for lot, weight in zip(lots, weights)]
+    used = [(lot, weight.top, weight.bottom * sum(lot)) for lot, weight in told if weight.top != 0]
+    bottom = 1
+    for _, _, part in used:
+        bottom = lcm(bottom, part)
+    tops = [top * (bottom // part) for _, top, part in used]
+    parts = [lot for lot, _, _ in used]
+    return ([product_sum(shares, tops) for shares in zip(*parts)], bottom)
 
 
 def product_sum(one, other):

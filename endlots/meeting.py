@@ -113,7 +113,7 @@ def common_mixture(space, lots):
     columns = []
     for at, told in enumerate(lots):
         # The lots of the first pair stand in the rows of all others.
-        starts = range(0, rows, count) if at == 0 else range(count * (at - 1), count * at, count)
+        starts = list(range(0, rows, count)) if at == 0 else [count * (at - 1)]
         sign = 1 if at == 0 else -1
         for lot in told:
             entries = [(first + outcome, sign * lot[outcome]) for first in starts for outcome in range(count)]
