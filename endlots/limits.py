@@ -80,7 +80,7 @@ def need_limited(space, text, store, limits):
 
 def is_limit(places, value):
     """Tell whether any value is a limit for a text."""
-    if not isinstance(value, tuple) or len(value) != 3 or not isinstance(value[0], str) or not is_amount(value[2]):
+    if not isinstance(value, tuple) or len(value) != 3 or not is_amount(value[2]):
         return False
     kind, told, _ = value
     if kind == "passes":

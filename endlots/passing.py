@@ -43,7 +43,7 @@ def is_passing_paper(space, text, store, lot, row, value):
     scene = need_scene(space, text, store)
     need_lot_of(space, lot)
     need_row_met(scene, row)
-    if not isinstance(value, tuple) or len(value) == 0 or not isinstance(value[0], str):
+    if not isinstance(value, tuple) or len(value) == 0:
         return False
     told = value[1:]
     if value[0] == "all":

@@ -2,6 +2,7 @@
 
 import unittest
 
+from endlots.bench import Bench
 from endlots.errors import ByZero, EndError, InvalidLine, TooMany
 from endlots.ratios import Ratio
 from endlots.spaces import Space
@@ -41,6 +42,7 @@ def any_values():
     return [
         None, True, False, 0, 1, -1, 2, 9, 10 ** 60, -(10 ** 60), "", "a", "0", "2/4", "skip ", "x" * 4000, "9" * 4000,
         "(" * 60, "\n", "\u0663", Ratio(1, 2), Ratio(1), Ratio(0), Space([2]), Space([2, 2, 2]), EndError(), ByZero(),
+        Bench(Space([2])),
         InvalidLine("a"), TooMany(count=3),
         [], (), {}, [None], (None,), [True], (True,), (1,), (0,), ((),), ([],), [()], [[]], [[], []], ["a"], ("a",),
         {"a": 1}, {"skip": ()}, {"": {}}, [1, True, 1], (1, True, 1), (True, 0, 0), (Ratio(1), 0, 0),

@@ -218,6 +218,15 @@ class TestJudged(PassingCase):
                     told = is_passing_paper(TWO, NEST, 0, (0, 1, 0), row, other)
                     self.assertIs(told, plain_is_passing(scene, (0, 1, 0), row, other), other)
 
+    def test_weights_of_tosses(self):
+        dice = [(1, 1), (1, 1)]
+        for tosses, good in [
+                ([(1, dice), (2, dice)], True), ([(1, dice), (1, dice)], True), ([(1, dice), (0, dice)], False), ([(2, dice), (-1, dice)], False),
+                ([(1, dice), (True, dice)], False), ([(1, dice), (Ratio(1), dice)], False), ([(1, dice), (1, dice[:1])], False), ([], False)]:
+            value = ("some", [(1, (1, 0))], tosses)
+            self.assertIs(is_passing_paper(TWO, NEST, 0, (0, 1, 0), INNER, value), good, tosses)
+            self.assertIs(plain_is_passing(PlainScene(TWO, NEST, 0), (0, 1, 0), INNER, value), good, tosses)
+
     def test_tosses_of_any_size(self):
         large = 10 ** 2000
         some = [(large, [(large, 1), (1, large)]), (1, [(2, 2), (0, 7)]), (1, [(2, 2), (0, 7)])]
