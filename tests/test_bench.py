@@ -571,8 +571,8 @@ class TestEqual(BenchCase):
         self.assertIs(bench_of(TWO, a=SKIP) == bench_of(EIGHT, a=SKIP), False)
         self.assertIs(bench_of(a=SKIP) == bench_of(b=SKIP), False)
         for value in any_values():
-            self.assertIs(Bench(TWO) == value, False)
-            self.assertIs(Bench(TWO) != value, True)
+            self.assertIs(bench_of(a=ONE) == value, False)
+            self.assertIs(bench_of(a=ONE) != value, True)
 
     def test_reading_changes_nothing(self):
         bench = bench_of(a=ONE, b=BOTH)

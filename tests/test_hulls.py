@@ -5,7 +5,7 @@ import unittest
 from itertools import combinations
 
 from endlots.errors import InvalidLot, InvalidLots, Outside
-from endlots.hulls import corners, distance, is_distance, is_outside, is_shares_in, shares_in
+from endlots.hulls import Hull, corners, distance, is_distance, is_outside, is_shares_in, shares_in
 from endlots.lots import blend
 from endlots.ratios import Ratio
 from odd import ErrorCase, any_values
@@ -346,6 +346,40 @@ class TestDistance(HullCase):
                 changed = payoff[:at] + [one] + payoff[at + 1:]
                 wanted = all(0 <= fraction(each) <= 1 for each in changed) and gap(lots, lot, changed) == fraction(number)
                 self.assertIs(is_distance(lots, lot, (number, shares, changed)), wanted)
+
+
+class TestHull(HullCase):
+    def test_mixtures_that_are_kept(self):
+        """One hull asked for many lots, with lots taken in on the way, tells what a new one tells of each."""
+        chance = random.Random(77)
+        inside = outside = 0
+        for _ in range(40):
+            count = chance.randrange(3, 7)
+            hull = Hull([drawn_lot(chance, count, 1) for _ in range(chance.randrange(1, 9))])
+            for _ in range(30):
+                if chance.random() < 0.1:
+                    hull.take_in(drawn_lot(chance, count, 1))
+                lots = list(hull.lots)
+                lot = chance.choice([
+                    drawn_lot(chance, count, 1), blend(lots, [chance.randrange(5) for _ in lots[1:]] + [1]), chance.choice(lots)])
+                number, shares, prices, scale = hull.nearest(lot)
+                self.assertEqual(number, distance(lots, lot)[0])
+                self.assertTrue(is_distance(lots, lot, (number, shares, [Ratio(price, scale) for price in prices])))
+                inside += number == 0
+                outside += number != 0
+        self.assertGreater(min(inside, outside), 200)
+
+    def test_corners_of_many_lots(self):
+        """Lots on the edges and within a hull in more outcomes: just those that are no blend of others stay."""
+        chance = random.Random(78)
+        for count in (4, 6, 9):
+            for _ in range(6):
+                lots = sorted({drawn_lot(chance, count, 1) for _ in range(12)})
+                blends = [blend(lots, [chance.choice([0, 0, 1, 3]) for _ in lots[1:]] + [1]) for _ in range(30)]
+                told = corners(lots + blends)
+                for lot in sorted(set(lots + blends)):
+                    others = [other for other in lots + blends if other != lot]
+                    self.assertEqual(lot in told, distance(others, lot)[0] != 0)
 
 
 class TestWrongArguments(HullCase):

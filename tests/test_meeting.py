@@ -112,6 +112,24 @@ class TestMeeting(MeetingCase):
         self.assertTrue(self.assert_one_of_both(TWO, [(text, 0), (("draw", 0, (0, 1), (999999, 1)), 0)]))
         self.assertFalse(self.assert_one_of_both(TWO, [(text, 0), (("draw", 0, (0, 1), (10 ** 6, 1)), 0)]))
 
+    def test_blends_by_weights(self):
+        """Lots that are met by no pick alone, with lots of different sums."""
+        for one, other in [((1, 2), (1, 9)), ((3, 5), (1, 7)), ((5, 3), (1, 2)), ((999983, 7), (1, 3)), ((2, 1), (999, 1000))]:
+            text = ("either", ("draw", 0, (0, 1), one), ("set", 0, [1, 1]))
+            good = one[0] * sum(other) >= other[0] * sum(one)
+            self.assertEqual(self.assert_one_of_both(TWO, [(text, 0), (("draw", 0, (0, 1), other), 1)]), good)
+            third = ("either", ("set", 0, [0, 0]), ("draw", 0, (0, 1), (1, 12)))
+            self.assertEqual(self.assert_one_of_both(TWO, [(third, 1), (text, 0), (("draw", 0, (0, 1), other), 1)]), good)
+        space = Space([4])
+        text = ("either", ("draw", 0, (0, 1), (1, 3)), ("either", ("draw", 0, (1, 2), (2, 5)), ("set", 0, [3] * 4)))
+        wide = ("then", ("draw", 0, (0, 1), (1, 4)), ("if", [0], ("draw", 0, (0, 2), (2, 1)), ("draw", 0, (1, 3), (7, 2))))
+        self.assert_one_of_both(space, [(text, 0), (wide, 1)])
+        told = brought(space, text, 0, (7, 41, 50, 10, 0))
+        self.assertEqual(len(told), 3)
+        point = ("then", ("draw", 0, (0, 1), (7, 101)), ("if", [0], SKIP, ("then", ("draw", 0, (1, 2), (41, 60)), (
+            "if", [2], ("draw", 0, (2, 3), (5, 1)), SKIP))))
+        self.assertTrue(self.assert_one_of_both(space, [(text, 0), (point, 0)]))
+
     def test_spoilt(self):
         chance = random.Random(722)
         drawn = Drawn(chance, sizes=(2,), weights=((1, 1), (1, 2)))

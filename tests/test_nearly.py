@@ -251,6 +251,15 @@ class TestRuns(NearlyCase):
             self.assertEqual(told[0] == "MayGoOn", goes_on, (surrounding, text, store))
             self.assertEqual(goes_on, bool(PlainScene(TWO, filled_with(surrounding, text), store).staying()))
 
+    def test_moves_that_lead_to_never(self):
+        # What is told is right but for never.
+        door = ((), 0)
+        for text, moves in [(HANG, 1), (("either", HANG, SKIP), 2), (("either", ("then", COIN, ("while", [0], SKIP)), SKIP), 2)]:
+            value = (1, [(door, 1)], [(door, moves - 1)], [(door, 1)])
+            self.assertIs(is_runs(TWO, HOLE, text, 0, value), False)
+            self.assertIs(plain_is_runs(around(TWO, HOLE, text, 0), value), False)
+        self.assertIs(is_runs(TWO, HOLE, ("either", COIN, SKIP), 0, (1, [(door, 1)], [(door, 1)], [(door, 1)])), True)
+
     def test_always_ends_of_what_is_filled(self):
         seen = {True: 0, False: 0}
         for space, surrounding, text, store, _ in self.drawn_around(812, 80, deep=2):
