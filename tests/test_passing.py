@@ -2,18 +2,22 @@
 
 import random
 import unittest
+from fractions import Fraction
+from itertools import product
 
 from asking import (
     COIN, EIGHT, FORK, FREE, HEAD, TAKE, TWO, AskCase, counted_eithers, nested_eithers, spoilt, with_rows,
 )
 from endlots.errors import InvalidLot, InvalidRow, NotBrought
 from endlots.forward import ends
+from endlots.hulls import distance
 from endlots.passing import is_passing_paper, passed, passing_paper, struck_rows, through
 from endlots.ratios import Ratio
 from endlots.spaces import Space
+from endlots.texts import is_text
 from judges import plain_come_to, plain_is_passing, plain_is_tosses, plain_struck
 from odd import any_values
-from plain import SKIP, Drawn, PlainScene, mix, plain_is_against
+from plain import SKIP, Drawn, PlainScene, is_end, lot_of_shares, mix, plain_is_against, shares_of
 from test_lots import NO_LOTS
 
 INNER = ((0, 0), 0)
@@ -133,6 +137,60 @@ class TestPassed(PassingCase):
                 self.assertTrue(plain_is_against(scene, lot, (caught.exception.payoff, caught.exception.table)))
             # The judge answers also if the lot is not brought.
             self.assertIs(is_passing_paper(TWO, text, store, lot, row, ("all",)), True)
+
+
+def courses_of(scene, place):
+    """What each chooser who tosses no coins brings from a place on, with the rows that it passes; there is no round."""
+    if is_end(place):
+        return {(sure(place, scene.never), frozenset())}
+    found = set()
+    for move in scene.moves[place]:
+        weights = [weight for _, weight in move]
+        for chosen in product(*[sorted(courses_of(scene, to), key=repr) for to, _ in move]):
+            rows = frozenset([place]).union(*[passed_rows for _, passed_rows in chosen])
+            found.add((mix([lot for lot, _ in chosen], weights), rows))
+    return found
+
+
+def has_share(lots, lot, part):
+    """Whether some blend of the lots that is the lot has a share of a part: a little less of it leaves a blend of them."""
+    little = Fraction(1, 10 ** 12)
+    shares = [(1 + little) * one - little * other for one, other in zip(shares_of(lot), shares_of(part))]
+    if min(shares) < 0:
+        return False
+    return distance(lots, lot_of_shares(shares))[0] == 0
+
+
+class TestAllChoosers(PassingCase):
+    def test_words_against_all_choosers(self):
+        """In texts without rounds each chooser is a blend of those who toss no coins, whatever they remember."""
+        chance = random.Random(715)
+        drawn = Drawn(chance, sizes=(3,), weights=((1, 1), (1, 2)))
+        drawn_kinds = "draw then then if either either"
+        seen = {word: 0 for word in WORDS}
+        texts = 0
+        while texts < 60:
+            space = Space([3])
+            text = drawn.text(space, chance.randrange(2, 5), drawn_kinds)
+            scene = PlainScene(space, text, 0)
+            if not is_text(space, text) or not 1 <= len(scene.eithers) <= 4 or len(scene.rows) > 9:
+                continue
+            courses = courses_of(scene, scene.place)
+            lots = sorted({lot for lot, _ in courses})
+            if len(lots) > 40:
+                continue
+            texts += 1
+            for lot in {chance.choice(lots), mix(chance.sample(lots, min(2, len(lots))), [1, 2][:len(lots)])}:
+                for row, word in passed(space, text, 0, lot):
+                    without = sorted({other for other, rows in courses if row not in rows})
+                    coming = {other for other, rows in courses if row in rows}
+                    if not without or distance(without, lot)[0] != 0:
+                        told = "all"
+                    else:
+                        told = "some" if any(has_share(lots, lot, part) for part in coming) else "none"
+                    self.assertEqual(word, told)
+                    seen[word] += 1
+        self.assertGreater(min(seen.values()), 20)
 
 
 class TestStruck(PassingCase):
